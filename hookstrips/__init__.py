@@ -1,0 +1,1 @@
+"""Hookstrips: falling rows, hook differences between two bounds, and one word for each row."""

@@ -1,0 +1,1 @@
+"""Integers, list texts and polynomials."""

@@ -1,0 +1,1 @@
+"""Rows and what is told of their squares."""
