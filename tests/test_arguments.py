@@ -1,108 +1,22 @@
 """Promises [0.1] to [0.5] and [0.7]: which arguments each function refuses, in which order, and with what error."""
 
 import copy
+import inspect
 import itertools
 import unittest
 
 from hookstrips.base import numbers, polys
+from hookstrips.diagonal import bounds as bounding, steps, sums
 from hookstrips.errors import (
-    InvalidNumber, InvalidOperation, InvalidPoly, InvalidRow, ParseError, TooMany,
+    InvalidBounds, InvalidBox, InvalidNumber, InvalidOperation, InvalidPoly, InvalidRow, InvalidWalk, InvalidWord,
+    Refused, TooMany,
 )
-from hookstrips.shape import rows
+from hookstrips.shape import boxes, gauss, ranks, rows, words
+from hookstrips.shape.boxes import Box
+from hookstrips.walled import walks
+from tests.calls import CALLS
 from tests.samples import (
-    EIGHT_DEEP, LONGEST, NO_INTEGERS, NO_INTEGERS_INSIDE, NO_STRINGS, NO_TUPLES, TOO_LONG,
-)
-
-
-class Place:
-    """What a parameter takes: a right value, wrong ones, the values at its bounds, and the error."""
-
-    def __init__(self, right, error, wrong, edges=()):
-        self.right = right
-        self.error = error
-        self.wrong = wrong
-        self.edges = edges
-
-    def is_kept(self, error, value):
-        if self.error is InvalidNumber:
-            return error.given is value
-        return self.error is not ParseError or error.spot == 0
-
-
-def integer(right, least=-LONGEST, most=LONGEST):
-    return Place(right, InvalidNumber, NO_INTEGERS + [least - 1, most + 1], (least, most))
-
-
-def listing(right, most, error):
-    wrong = NO_TUPLES + NO_INTEGERS_INSIDE + [(1,) * (most + 1)]
-    return Place(right, error, wrong, ((), (1,) * most, (LONGEST, -LONGEST)))
-
-
-def poly(right):
-    wrong = NO_TUPLES + NO_INTEGERS_INSIDE + [(0,), (1, 0), (0, 0), (1, False), (1,) * 4001]
-    return Place(right, InvalidPoly, wrong, ((), (0, 1), (1,) * 4000, (-LONGEST, LONGEST)))
-
-
-def row(right):
-    wrong = NO_TUPLES + NO_INTEGERS_INSIDE + [
-        (0,), (1, 0), (-1,), (1, 2), (3, 1, 2), (201,), (201, 1), (LONGEST,), (1,) * 61, (200,) * 61, (1, True),
-    ]
-    return Place(right, InvalidRow, wrong, ((), (1,), (200,) * 60, (1,) * 60))
-
-
-def column_pairs(right):
-    falling = tuple((199 - at, 199 - at) for at in range(61))
-    wrong = NO_TUPLES + NO_INTEGERS_INSIDE + [
-        (1,), (1, 1), ([1, 1],), ((1,),), ((1, 1, 1),), ((),), ("11",), ((200, 1),), ((1, 200),), ((-1, 1),),
-        ((1, -1),), ((True, 1),), ((1, False),), ((1, None),), (("1", 1),), ((1, 1), (0, 1)), ((1, 1), (1, 0)),
-        ((0, 0), (1, 1)), ((3, 3), (2, 2), (2, 1)), ((TOO_LONG, 1),), (((1, 1),),), ((1, 1), None), falling,
-    ]
-    return Place(right, InvalidRow, wrong, ((), ((0, 0),), ((199, 0),), ((0, 199),), falling[:60]))
-
-
-def text(right):
-    return Place(right, ParseError, NO_STRINGS + ["1" * 4001, "1 " * 2001, "x", ""], ("-", "0"))
-
-
-LISTED = listing((3, -1), 60, InvalidOperation)
-SQUARE_SIDE = integer(2, 1, 200)
-
-CALLS = (
-    (numbers.binomial, (integer(6, 0, 1000), integer(2))),
-    (numbers.binomials, (integer(6, 0, 1000),)),
-    (numbers.pentagonal, (integer(6),)),
-    (numbers.pentagonal_root, (integer(6),)),
-    (numbers.modulo_of, (integer(6), integer(5, 1, 1000))),
-    (numbers.list_text, (LISTED,)),
-    (numbers.numbers_of_text, (text("1 2"),)),
-    (polys.poly_of, (listing((1, 0), 4000, InvalidPoly),)),
-    (polys.degree_of, (poly((1, 2)),)),
-    (polys.coefficient, (poly((1, 2)), integer(1, 0))),
-    (polys.added, (poly((1, 2)), poly((3,)))),
-    (polys.less, (poly((1, 2)), poly((3,)))),
-    (polys.multiplied, (poly((1, 2)), poly((3,)))),
-    (polys.shifted, (poly((1, 2)), integer(3, 0, 4000))),
-    (polys.scaled, (poly((1, 2)), integer(3))),
-    (polys.at_one, (poly((1, 2)),)),
-    (polys.at_minus_one, (poly((1, 2)),)),
-    (polys.cut, (poly((1, 2)), integer(3, 0, 1000))),
-    (polys.times_factor, (poly((1, 2)), integer(3, 1, 400))),
-    (polys.over_factor, (poly((1, 0, 0, -1)), integer(3, 1, 400))),
-    (polys.over_factors_to, (poly((1, 2)), integer(2, 0, 400), integer(4, 0, 1000))),
-    (polys.is_balanced, (poly((1, 2)),)),
-    (polys.is_peaked, (poly((1, 2)),)),
-    (rows.size_of, (row((2, 1)),)),
-    (rows.turned, (row((2, 1)),)),
-    (rows.parts_of, (row((2, 1)), integer(1, 1, 200))),
-    (rows.has_square, (row((2, 1)), None)),
-    (rows.hook_difference, (row((2, 2)), SQUARE_SIDE, SQUARE_SIDE)),
-    (rows.squares_on, (row((2, 1)), integer(0, -200, 200))),
-    (rows.hook_differences, (row((2, 1)), integer(0, -200, 200))),
-    (rows.ranks, (row((2, 1)),)),
-    (rows.columns, (row((2, 1)),)),
-    (rows.row_of_columns, (column_pairs(((1, 1),)),)),
-    (rows.put_together, (row((2, 1)), row((1,)))),
-    (rows.is_inside, (row((2, 1)), row((1,)))),
+    EIGHT_DEEP, FIVE, FOUR, NO_INTEGERS, NO_INTEGERS_INSIDE, NO_OBJECTS, NO_STRINGS, NO_TUPLES, SEVEN, STRIP,
 )
 
 
@@ -110,12 +24,18 @@ def right_values(places):
     return [(1, 1) if place is None else place.right for place in places]
 
 
+def result_of(call, values):
+    """The result, that of a generator as a list."""
+    result = call(*values)
+    return list(result) if inspect.isgenerator(result) else result
+
+
 class Arguments(unittest.TestCase):
     def refuses(self, call, values, place, value):
         before = copy.deepcopy([given for given in values if isinstance(given, (list, dict))])
         with self.subTest(call=call.__name__, values=str(values)[:200]):
             with self.assertRaises(place.error) as caught:
-                call(*values)
+                result_of(call, values)
             self.assertIs(type(caught.exception), place.error)
             self.assertTrue(place.is_kept(caught.exception, value))
             self.assertEqual([given for given in values if isinstance(given, (list, dict))], before)
@@ -131,7 +51,7 @@ class Arguments(unittest.TestCase):
     def test_the_first_one_of_two_wrong_values(self):
         for call, places in CALLS:
             for at, behind in itertools.combinations(range(len(places)), 2):
-                if places[behind] is None:
+                if places[at] is None or places[behind] is None:
                     continue
                 for value, further in itertools.product(places[at].wrong, places[behind].wrong):
                     values = right_values(places)
@@ -146,34 +66,141 @@ class Arguments(unittest.TestCase):
                     values[at] = value
                     with self.subTest(call=call.__name__, at=at, value=str(value)[:50]):
                         try:
-                            first = call(*values)
-                        except (InvalidOperation, TooMany) as error:
+                            first = result_of(call, values)
+                        except (InvalidOperation, TooMany, Refused) as error:
                             # These come behind the check of the arguments.
                             self.assertIsNot(type(error), place.error)
                         else:
-                            self.assertEqual(first, call(*values))
+                            self.assertEqual(first, result_of(call, values))
 
-    def test_added_errors_come_last(self):
-        with self.assertRaises(InvalidNumber) as caught:
-            rows.hook_difference((2, 1), 5, 0)
-        self.assertEqual(caught.exception.given, 0)
-        with self.assertRaises(InvalidNumber) as caught:
-            polys.over_factor((1, 1), 401)
-        self.assertEqual(caught.exception.given, 401)
-        with self.assertRaises(InvalidPoly):
-            polys.multiplied((1,) * 4000, (1, 0))
-        with self.assertRaises(InvalidNumber) as caught:
-            polys.shifted((1,) * 4000, 4001)
-        self.assertEqual(caught.exception.given, 4001)
+    def test_generators_raise_when_the_first_result_is_asked_for(self):
+        for call, places in CALLS:
+            values = right_values(places)
+            if not inspect.isgeneratorfunction(call):
+                self.assertFalse(inspect.isgenerator(call(*values)), call.__name__)
+                continue
+            for at, place in enumerate(places):
+                values = right_values(places)
+                values[at] = place.wrong[0]
+                made = call(*values)
+                with self.assertRaises(place.error):
+                    next(made)
 
-    def test_is_functions_accept_every_value(self):
-        values = NO_INTEGERS + NO_TUPLES + NO_INTEGERS_INSIDE + NO_STRINGS + [EIGHT_DEEP, [EIGHT_DEEP], {1: [()]}]
-        for value in values + [(1,) * 5000, "a" * 4000, [[]] * 100]:
-            for call in (numbers.is_integer, numbers.is_name, polys.is_poly, rows.is_row):
-                with self.subTest(call=call.__name__, value=str(value)[:50]):
-                    self.assertIs(type(call(value)), bool)
-            with self.subTest(call="has_square", value=str(value)[:50]):
-                self.assertIs(rows.has_square((200,) * 60, value), False)
+    def test_which_are_generators(self):
+        told = [call for call, _ in CALLS if inspect.isgeneratorfunction(call)]
+        self.assertEqual(told, [boxes.box_rows, words.steps_of, walks.walks])
+
+
+class ErrorsBehindThen(unittest.TestCase):
+    def raises(self, error, kept, call, *values):
+        with self.subTest(call=call.__name__, values=values):
+            with self.assertRaises(error) as caught:
+                result_of(call, values)
+            self.assertIs(type(caught.exception), error)
+            if kept is not None:
+                self.assertEqual(list(vars(caught.exception).values()), [kept])
+
+    def test_numbers_polynomials_and_rows(self):
+        self.raises(InvalidNumber, 0, rows.hook_difference, (2, 1), 5, 0)
+        self.raises(InvalidNumber, 401, polys.over_factor, (1, 1), 401)
+        self.raises(InvalidPoly, None, polys.multiplied, (1,) * 4000, (1, 0))
+        self.raises(InvalidNumber, 4001, polys.shifted, (1,) * 4000, 4001)
+
+    def test_boxes(self):
+        neighbours = (boxes.greater_rows, boxes.lesser_rows)
+        for call in (boxes.rim_of, boxes.place_of, boxes.rest_of, *neighbours, ranks.box_word):
+            self.raises(InvalidOperation, None, call, Box(2, 3), (3,))
+            self.raises(InvalidOperation, None, call, Box(2, 3), (1, 1, 1, 1))
+            self.raises(InvalidRow, None, call, Box(2, 3), (1, 2, 1, 1))
+            self.raises(InvalidBox, None, call, (2, 3), (3,))
+        self.raises(TooMany, 5000, boxes.box_rows, Box(40, 40))
+
+    def test_gaussian_numbers(self):
+        self.raises(InvalidNumber, 201, gauss.gaussian_by_rows, 80, 201)
+        self.raises(InvalidNumber, 81, gauss.gaussian_by_rows, 81, 40)
+        self.raises(TooMany, 5000, gauss.gaussian_by_rows, 80, 40)
+
+    def test_words(self):
+        long = (101, 100, 100, 100)
+        for call in (words.word_of, words.steps_of, ranks.uncrossed):
+            self.raises(TooMany, 400, call, long)
+            self.raises(InvalidRow, None, call, long[::-1])
+        self.raises(TooMany, 400, ranks.crossed_often, long, -1)
+        self.raises(InvalidNumber, -21, ranks.crossed_often, long, -21)
+        self.raises(InvalidRow, None, words.lowered, (0,))
+        self.raises(InvalidOperation, None, words.lowered, ())
+
+    def test_bounds_and_sums(self):
+        wide = Box(40, 40)
+        for call in (bounding.bounded_rows, bounding.bounded_poly):
+            self.raises(TooMany, 5000, call, FIVE, wide)
+            self.raises(InvalidBounds, None, call, wide, FIVE)
+            self.raises(InvalidBox, None, call, FIVE, FIVE)
+        for call in (sums.sum_poly, sums.sum_number):
+            self.raises(Refused, ("window",), call, FIVE, Box(4, 1))
+            self.raises(InvalidBox, None, call, FIVE, (4, 1))
+
+    def test_steps(self):
+        self.raises(InvalidBox, None, steps.by_steps, 5, 2, 0, 0, None)
+        self.raises(InvalidOperation, None, steps.by_steps, 5, 2, 0, 0, Box(13, 13))
+        self.raises(TooMany, 12, steps.by_steps, 5, 2, 0, 1, Box(13, 1))
+        for call in (steps.column_rule, steps.row_rule):
+            self.raises(InvalidBox, None, call, 5, 2, 0, 0, (0, 0))
+            self.raises(InvalidNumber, 6, call, 5, 2, 0, 6, Box(0, 0))
+            self.raises(InvalidOperation, None, call, 5, 2, 0, 0, FOUR)
+        for call, why in ((steps.column_off, "column"), (steps.column_on, "column"), (steps.row_off, "row")):
+            self.raises(InvalidRow, None, call, FIVE, FOUR, (0,))
+            self.raises(Refused, (why,), call, FIVE, FOUR, (9, 9))
+            self.raises(InvalidOperation, None, call, SEVEN, FOUR, (9, 9))
+        self.raises(Refused, ("row",), steps.row_on, FIVE, FOUR, (9, 9))
+        self.raises(InvalidOperation, None, steps.row_on, SEVEN, FOUR, (9, 9))
+        self.raises(InvalidBox, None, steps.split_by_column, FIVE, 4)
+        self.raises(InvalidBox, None, steps.split_by_row, FIVE, 4)
+
+    def test_walks(self):
+        self.raises(InvalidNumber, 5, walks.walks, STRIP, 1, 60, 4, 5)
+        self.raises(TooMany, 2000, walks.walks, STRIP, 2, 60, 2, 3)
+        self.raises(InvalidNumber, 4, walks.walk_at, STRIP, 2, 60, 2, 4, -1)
+        self.raises(InvalidNumber, -1, walks.walk_at, STRIP, 2, 60, 2, 3, -1)
+        self.raises(InvalidNumber, 4, walks.sum_of_walks, STRIP, 2, 3, 2, 4)
+        self.raises(InvalidOperation, None, walks.sum_of_walks, STRIP, 2, 3, 2, 3)
+        self.raises(InvalidBox, None, walks.walks_of_sum, FIVE, None)
+        self.raises(InvalidOperation, None, walks.walks_of_sum, FIVE, Box(40, 0))
+        self.raises(Refused, ("window",), walks.walks_of_sum, bounding.Bounds(5, 2, 2, 2), Box(40, 0))
+        self.raises(InvalidWalk, None, walks.place_of, STRIP, (1, 2) * 32)
+
+
+class JudgedValues(unittest.TestCase):
+    def test_every_value_is_accepted(self):
+        values = NO_INTEGERS + NO_TUPLES + NO_INTEGERS_INSIDE + NO_STRINGS + NO_OBJECTS + [[EIGHT_DEEP], {1: [()]}]
+        judges = (
+            numbers.is_integer, numbers.is_name, polys.is_poly, rows.is_row, words.is_word,
+            lambda value: rows.has_square((200,) * 60, value), lambda value: boxes.is_rim(FOUR, value),
+            lambda value: ranks.is_box_word(FOUR, value), lambda value: bounding.is_bounded(FIVE, value),
+            lambda value: walks.is_walk(STRIP, value), lambda value: value in FOUR, lambda value: FOUR == value,
+            lambda value: FIVE == value, lambda value: STRIP == value,
+        )
+        for value in values + [(1,) * 5000, "a" * 4000, "b" * 4000, [[]] * 100]:
+            for at, judge in enumerate(judges):
+                with self.subTest(at=at, value=str(value)[:50]):
+                    self.assertIs(type(judge(value)), bool)
+
+    def test_true_is_not_1(self):
+        for judged in (
+            numbers.is_integer(True), polys.is_poly((True,)), rows.is_row((True,)), rows.has_square((1,), (True, 1)),
+            (True,) in FOUR, (2, True) in FOUR, bounding.is_bounded(FIVE, (True,)),
+            bounding.is_bounded(FIVE, (2, True)), walks.is_walk(STRIP, (True, 2)), walks.is_walk(STRIP, (2, True)),
+        ):
+            self.assertIs(judged, False)
+
+    def test_other_parameters_are_not_free(self):
+        for call, values, error in (
+            (boxes.is_rim, ((4, 4), None), InvalidBox), (ranks.is_box_word, (None, None), InvalidBox),
+            (bounding.is_bounded, (FOUR, None), InvalidBounds), (walks.is_walk, (5, None), InvalidWalk),
+            (words.raised, ((1,), "c"), InvalidWord),
+        ):
+            with self.assertRaises(error):
+                call(*values)
 
 
 if __name__ == "__main__":

@@ -9,6 +9,13 @@ CONSTANTS = {
     "hookstrips.base.numbers": {"MAX_NAME": 8, "MAX_TOP": 1000, "MAX_LISTED": 60, "MAX_TEXT": 4000},
     "hookstrips.base.polys": {"MAX_NUMBERS": 4000, "MAX_FACTOR": 400, "MAX_SERIES": 1000},
     "hookstrips.shape.rows": {"MAX_PARTS": 60, "MAX_PART": 200},
+    "hookstrips.shape.boxes": {"MAX_SIDE": 40, "MOST_LISTED": 5000},
+    "hookstrips.shape.gauss": {"MAX_TOP": 80, "MAX_LINE": 40, "MAX_LISTED": 5000},
+    "hookstrips.shape.words": {"MOST_LETTERS": 400},
+    "hookstrips.shape.ranks": {"MOST_CROSSED": 20},
+    "hookstrips.diagonal.bounds": {"MAX_MODULUS": 17, "MAX_LISTED": 5000},
+    "hookstrips.diagonal.steps": {"MAX_STEPPED": 12},
+    "hookstrips.walled.walks": {"MAX_WALLS": 12, "MAX_WALK": 62, "MOST_WALKS": 2000, "FAR_STEPS": 10000},
 }
 
 FUNCTIONS = {
@@ -27,6 +34,56 @@ FUNCTIONS = {
         " squares_on(row,diagonal) hook_differences(row,diagonal) ranks(row) columns(row) row_of_columns(columns)"
         " put_together(one,other) is_inside(one,other)"
     ),
+    "hookstrips.shape.boxes": (
+        "box_rows(box) rim_of(box,row) row_of_rim(box,rim) is_rim(box,value) row_at(box,place) place_of(box,row)"
+        " rest_of(box,row) greater_rows(box,row) lesser_rows(box,row)"
+    ),
+    "hookstrips.shape.gauss": (
+        "gaussian(top,low) gaussian_by_product(top,low) gaussian_by_rows(top,low) gaussian_line(top)"
+        " first_rule(top,low) last_rule(top,low) split_terms(one,other,low) unlike_poly(least,many)"
+        " unlike_terms(least,many) signed_sum(top)"
+    ),
+    "hookstrips.shape.words": (
+        "is_word(value) lowered(row) raised(row,letter) word_of(row) row_of_word(word) heights_of(word)"
+        " descents_of(word) word_size(word) depth_of(word) drop_of(word) closest_parts(row) steps_of(row)"
+    ),
+    "hookstrips.shape.ranks": (
+        "rank_word(row) row_of_rank_word(word) word_ranks(word) box_word(box,row) is_box_word(box,value)"
+        " row_of_box_word(box,letters) followed_places(box,letters) crossed(row) uncrossed(row)"
+        " crossed_often(row,many) round_of(row,most)"
+    ),
+    "hookstrips.diagonal.bounds": (
+        "has_window(bounds,box) is_bounded(bounds,value) failing_square(bounds,row) bounded_rows(bounds,box)"
+        " bounded_poly(bounds,box)"
+    ),
+    "hookstrips.diagonal.sums": (
+        "sum_terms(bounds,box) sum_poly(bounds,box) sum_number(bounds,box) alternating(modulus,first,alpha,beta,box)"
+    ),
+    "hookstrips.diagonal.steps": (
+        "column_rule(modulus,first,alpha,beta,box) row_rule(modulus,first,alpha,beta,box)"
+        " by_steps(modulus,first,alpha,beta,box) has_columns(bounds,box) has_rows(bounds,box) column_bounds(bounds)"
+        " row_bounds(bounds) column_off(bounds,box,row) column_on(bounds,box,row) row_off(bounds,box,row)"
+        " row_on(bounds,box,row) split_by_column(bounds,box) split_by_row(bounds,box)"
+    ),
+    "hookstrips.walled.walks": (
+        "is_walk(strip,value) doubled_weight(strip,walk) rise_of(strip,walk) least_weight(strip,first,last,goal)"
+        " has_walks(strip,first,steps,last,goal) walks(strip,first,steps,last,goal)"
+        " walks_number(strip,first,steps,last,goal) walks_poly(strip,first,steps,last,goal)"
+        " walk_at(strip,first,steps,last,goal,place) place_of(strip,walk) lightest_walk(strip,first,steps,last,goal)"
+        " mirrored_walk(strip,walk) sum_of_walks(strip,first,steps,last,goal) walks_of_sum(bounds,box)"
+    ),
+}
+
+# Each class with what it is made of, its properties, and its methods by signs.
+CLASSES = {
+    ("hookstrips.shape.boxes", "Box"): (
+        "wide,high", "wide high number turned_box", "__init__ __contains__ __eq__ __str__",
+    ),
+    ("hookstrips.diagonal.bounds", "Bounds"): (
+        "modulus,first,alpha,beta",
+        "modulus first alpha beta low low_diagonal high high_diagonal window turned_bounds", "__init__ __eq__ __str__",
+    ),
+    ("hookstrips.walled.walks", "Strip"): ("walls", "walls highest", "__init__ __eq__ __str__"),
 }
 
 
@@ -59,6 +116,22 @@ class Interface(unittest.TestCase):
                     for each in parameters:
                         self.assertIs(each.kind, inspect.Parameter.POSITIONAL_OR_KEYWORD)
                         self.assertIs(each.default, inspect.Parameter.empty)
+
+    def test_classes(self):
+        for (path, name), (names, properties, methods) in CLASSES.items():
+            module = importlib.import_module(path)
+            with self.subTest(path=path, name=name):
+                self.assertIn(name, defined_in(module))
+                made = getattr(module, name)
+                parameters = inspect.signature(made).parameters.values()
+                self.assertEqual([each.name for each in parameters], names.split(","))
+                own = vars(made)
+                for each in properties.split():
+                    self.assertIs(type(own[each]), property)
+                for each in methods.split():
+                    self.assertTrue(inspect.isfunction(own[each]))
+                public = [each for each in own if not each.startswith("_")]
+                self.assertEqual(sorted(public), sorted(properties.split()))
 
 
 if __name__ == "__main__":

@@ -1,4 +1,4 @@
-"""The rules of LANGUAGE.md that can be seen file by file: L1 to L3, L7, L8, L10, L14 to L17, L19 and L27."""
+"""The rules of LANGUAGE.md that can be seen file by file: parts of L1 to L10, L12, L14 to L17, L19, L23 and L27."""
 
 import ast
 import builtins
@@ -29,6 +29,7 @@ BARRED = set(
     " IntEnum StrEnum Flag IntFlag Generic Protocol ABC ABCMeta namedtuple NamedTuple TypedDict TYPE_CHECKING"
     " abstractmethod dataclass overload contextmanager eval exec compile globals locals vars dir id".split()
 )
+METHODS = ("__init__", "__eq__", "__str__", "__contains__")
 TOP = (ast.ImportFrom, ast.FunctionDef, ast.ClassDef, ast.Assign)
 NOT_PLAIN = (ast.Call, ast.ListComp, ast.Set, ast.SetComp, ast.DictComp)
 NOT_USED = (
@@ -163,6 +164,43 @@ class Language(unittest.TestCase):
                 for node in ast.walk(tree):
                     if isinstance(node, (ast.FunctionDef, ast.ClassDef)) and not node.name.startswith("__"):
                         self.assertIsNotNone(ast.get_docstring(node), node.name)
+
+    def test_classes_and_methods(self):
+        for path, text, tree in files():
+            with self.subTest(path=path):
+                self.assertIsNone(re.search(r"\b_wall\b", text))
+                for node in ast.walk(tree):
+                    if isinstance(node, ast.FunctionDef):
+                        decorators = [ast.unparse(each) for each in node.decorator_list]
+                        self.assertIn(decorators, ([], ["property"]))
+                        if node.name.startswith("__"):
+                            self.assertIn(node.name, METHODS)
+                    elif isinstance(node, ast.ClassDef):
+                        self.assertEqual(node.decorator_list, [])
+                        names = [each.name for each in node.body if isinstance(each, ast.FunctionDef)]
+                        self.assertEqual(len(names), len(set(names)))
+                        # A property or an operator changes nothing, so only __init__ assigns attributes.
+                        for method in node.body:
+                            self.assertTrue(is_docstring(method) or isinstance(method, ast.FunctionDef))
+                            if isinstance(method, ast.FunctionDef) and method.name != "__init__":
+                                stored = [each for each in ast.walk(method) if isinstance(each, ast.Attribute)]
+                                self.assertTrue(all(isinstance(each.ctx, ast.Load) for each in stored))
+
+    def test_generators(self):
+        generators, functions = [], []
+        for path, text, tree in files():
+            for node in ast.walk(tree):
+                if isinstance(node, ast.FunctionDef):
+                    functions.append(node.name)
+                    inner = list(ast.walk(node))
+                    if any(isinstance(each, (ast.Yield, ast.YieldFrom)) for each in inner):
+                        generators.append(node.name)
+                        self.assertFalse(any(isinstance(each, (ast.Try, ast.With)) for each in inner), node.name)
+        # No other function has the name of a generator, and none is called within the package.
+        self.assertEqual([functions.count(name) for name in generators], [1] * len(generators))
+        for path, text, tree in files():
+            used = {node.id for node in ast.walk(tree) if isinstance(node, ast.Name)}
+            self.assertEqual(used & set(generators), set(), path)
 
 
 if __name__ == "__main__":

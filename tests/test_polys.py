@@ -8,7 +8,7 @@ from hookstrips.base.polys import (
     over_factor, over_factors_to, poly_of, scaled, shifted, times_factor,
 )
 from hookstrips.errors import InvalidNumber, InvalidOperation, InvalidPoly, TooMany
-from tests.samples import LONGEST, NO_INTEGERS_INSIDE, NO_TUPLES, rows_of_size
+from tests.samples import LONGEST, NO_INTEGERS_INSIDE, NO_TUPLES, rows_of_size, value_at
 
 # All polynomials of at most four small coefficients.
 SMALL = [numbers for many in range(5) for numbers in itertools.product(range(-2, 3), repeat=many)
@@ -17,13 +17,6 @@ SOME = SMALL[::7] + [(0, 0, 0, 0, 0, 1), (5, 0, -3, 0, 1, 1, 2), (-1,) * 9, (10 
 
 # At a q that is far above all coefficients a polynomial is told by its value.
 FAR = 10 ** 200
-
-
-def value_at(poly, q):
-    total = 0
-    for number in reversed(poly):
-        total = total * q + number
-    return total
 
 
 class Polynomials(unittest.TestCase):

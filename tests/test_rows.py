@@ -8,17 +8,11 @@ from hookstrips.shape.rows import (
     columns, has_square, hook_difference, hook_differences, is_inside, is_row, parts_of, put_together, ranks,
     row_of_columns, size_of, squares_on, turned,
 )
-from tests.samples import NO_INTEGERS_INSIDE, NO_TUPLES, rows_of_size, rows_to_size, squares
+from tests.samples import NO_INTEGERS_INSIDE, NO_TUPLES, rows_of_size, rows_to_size, squares, turned_by_squares
 
 SMALL = rows_to_size(10)
 FULL = (200,) * 60
 WIDE = [(200,), (200, 1), (1,) * 60, FULL, tuple(range(60, 0, -1)), tuple(range(200, 140, -1)), (200,) * 30 + (7,) * 30]
-
-
-def turned_by_squares(row):
-    flipped = {(c, r) for r, c in squares(row)}
-    many = max([r for r, _ in flipped], default=0)
-    return tuple(len([1 for r, _ in flipped if r == at]) for at in range(1, many + 1))
 
 
 def differences_by_squares(row, diagonal):

@@ -59,18 +59,18 @@ def added(one, other):
     """The sum of both polynomials."""
     check_poly(one)
     check_poly(other)
-    return _sum_with(one, other, 1)
+    return sum_with(one, other, 1)
 
 
 def less(one, other):
     """The first polynomial less the second one."""
     check_poly(one)
     check_poly(other)
-    return _sum_with(one, other, -1)
+    return sum_with(one, other, -1)
 
 
-def _sum_with(one, other, sign):
-    """The sum of the first polynomial and of the second one times the sign."""
+def sum_with(one, other, sign):
+    """The sum of the first polynomial and of the second one times the sign, both of any length."""
     total = list(one) + [0] * (len(other) - len(one))
     for at, number in enumerate(other):
         total[at] += sign * number
@@ -98,7 +98,12 @@ def shifted(poly, many):
     if poly == ():
         return ()
     check_length(len(poly) + many)
-    return (0,) * many + poly
+    return moved(poly, many)
+
+
+def moved(poly, many):
+    """The polynomial of any length times q ** many."""
+    return (0,) * many + poly if poly != () else ()
 
 
 def scaled(poly, number):
@@ -138,15 +143,15 @@ def over_factor(poly, step):
     """The polynomial whose product with 1 - q ** step is the given one."""
     check_poly(poly)
     check_between(step, 1, MAX_FACTOR)
-    sums = _over_one(poly, step)
+    sums = over_one(poly, step)
     length = max(0, len(poly) - step)
     if any([number != 0 for number in sums[length:]]):
         raise InvalidOperation("no polynomial has this product with 1 - q ** step")
     return tuple(sums[:length])
 
 
-def _over_one(numbers, step):
-    """The list of as many coefficients of the quotient by 1 - q ** step."""
+def over_one(numbers, step):
+    """The list of as many coefficients, of any number, of the quotient by 1 - q ** step."""
     sums = list(numbers)
     for at in range(step, len(numbers)):
         sums[at] += sums[at - step]
@@ -160,7 +165,7 @@ def over_factors_to(poly, many, size):
     check_between(size, 0, MAX_SERIES)
     series = cut(poly, size)
     for step in range(1, many + 1):
-        series = _over_one(series, step)
+        series = over_one(series, step)
     return tuple(series)
 
 

@@ -82,18 +82,25 @@ def squares_on(row, diagonal):
     """The ascending tuple of the squares of the row on the diagonal."""
     check_row(row)
     check_between(diagonal, -MAX_PART, MAX_PART)
-    squares = []
-    for r in range(max(1, 1 + diagonal), len(row) + 1):
-        if _reaches(row, r, r - diagonal):
-            squares.append((r, r - diagonal))
-    return tuple(squares)
+    return tuple([square for square, _ in differences_along(row, diagonal)])
 
 
 def hook_differences(row, diagonal):
     """The tuple of the hook differences on the diagonal, the squares ascending."""
-    squares = squares_on(row, diagonal)
+    check_row(row)
+    check_between(diagonal, -MAX_PART, MAX_PART)
+    return tuple([difference for _, difference in differences_along(row, diagonal)])
+
+
+def differences_along(row, diagonal):
+    """The pairs of a square on the diagonal and its hook difference, in a row of any length."""
     lengths = column_lengths(row)
-    return tuple([row[r - 1] - lengths[c - 1] for r, c in squares])
+    told = []
+    for r in range(max(1, 1 + diagonal), len(row) + 1):
+        c = r - diagonal
+        if _reaches(row, r, c):
+            told.append(((r, c), row[r - 1] - lengths[c - 1]))
+    return told
 
 
 def ranks(row):
@@ -103,19 +110,32 @@ def ranks(row):
 
 def columns(row):
     """The tuple of the pairs (a, b) of the squares on the diagonal 0."""
-    squares = squares_on(row, 0)
-    lengths = column_lengths(row)
-    return tuple([(row[r - 1] - r, lengths[c - 1] - c) for r, c in squares])
+    check_row(row)
+    return columns_along(row)
+
+
+def columns_along(row):
+    """The columns of a row of any length and with parts of any size."""
+    pairs = []
+    for at, (part, length) in enumerate(zip(row, column_lengths(row)), 1):
+        if part >= at:
+            pairs.append((part - at, length - at))
+    return tuple(pairs)
 
 
 def row_of_columns(columns):
     """The row with these columns."""
     if not _are_columns(columns):
         raise InvalidRow("not at most 60 pairs of integers from 0 to 199 that fall strictly")
-    first_parts = [pair[0] + at + 1 for at, pair in enumerate(columns)]
-    first_lengths = [pair[1] + at + 1 for at, pair in enumerate(columns)]
+    return row_with_columns(columns)
+
+
+def row_with_columns(pairs):
+    """The row with these columns, as many and as great as they are."""
+    first_parts = [pair[0] + at + 1 for at, pair in enumerate(pairs)]
+    first_lengths = [pair[1] + at + 1 for at, pair in enumerate(pairs)]
     # Below the last square on the diagonal 0 there are only these first columns.
-    rest = column_lengths(first_lengths)[len(columns):]
+    rest = column_lengths(first_lengths)[len(pairs):]
     return tuple(first_parts) + rest
 
 

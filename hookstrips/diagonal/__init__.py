@@ -1,0 +1,1 @@
+"""Bounds on hook differences, sums that count bounded rows, and recursions."""

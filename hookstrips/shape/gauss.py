@@ -1,0 +1,134 @@
+"""Gaussian numbers: the polynomials that count the rows in boxes by size, and what adds up to them."""
+
+from hookstrips.base.numbers import check_between
+from hookstrips.base.polys import moved, multiplied, over_one, sum_with, without_end_zeros
+from hookstrips.shape.boxes import listed_rows
+
+MAX_TOP = 80
+MAX_LINE = 40
+MAX_LISTED = 5000
+MAX_LOW = 200
+
+
+def check_top_and_low(top, low, least):
+    """Raise the first error of a top from `least` on and of a low."""
+    check_between(top, least, MAX_TOP)
+    check_between(low, -MAX_LOW, MAX_LOW)
+
+
+def gaussian(top, low):
+    """The Gaussian number, by the first rule."""
+    check_top_and_low(top, low, 0)
+    return _by_first_rule(top, low)
+
+
+def _by_first_rule(top, low):
+    """The Gaussian number for any low."""
+    if low < 0 or low > top:
+        return ()
+    # The line has [high; high], [high + 1; high], .., [high + top - low; high].
+    line = [(1,)] * (top - low + 1)
+    for high in range(1, low + 1):
+        grown = [(1,)]
+        for without in line[1:]:
+            grown.append(sum_with(without, moved(grown[-1], high), 1))
+        line = grown
+    return line[-1]
+
+
+def gaussian_by_product(top, low):
+    """The Gaussian number, by products and quotients of factors 1 - q ** j."""
+    check_top_and_low(top, low, 0)
+    if low < 0 or low > top:
+        return ()
+    return gaussian_numbers(top, low)[-1]
+
+
+def gaussian_numbers(top, most):
+    """The list of the Gaussian numbers of the top for each low from 0 to `most`."""
+    numbers = [(1,)]
+    for low in range(1, most + 1):
+        step = top - low + 1
+        product = sum_with(numbers[-1], moved(numbers[-1], step), -1)
+        # What stands behind the degree of the quotient is 0, since this division has no rest.
+        numbers.append(without_end_zeros(over_one(product, low)))
+    return numbers
+
+
+def gaussian_by_rows(top, low):
+    """The Gaussian number, by listing the rows in the box."""
+    check_top_and_low(top, low, 0)
+    if low < 0 or low > top:
+        return ()
+    return counted_by_size(listed_rows(top - low, low, MAX_LISTED))
+
+
+def counted_by_size(rows):
+    """The polynomial that counts the rows of a list by size."""
+    sizes = [sum(row) for row in rows]
+    numbers = [0] * (max(sizes, default=-1) + 1)
+    for size in sizes:
+        numbers[size] += 1
+    return tuple(numbers)
+
+
+def gaussian_line(top):
+    """The tuple of the Gaussian numbers for each low from 0 to the top."""
+    check_between(top, 0, MAX_LINE)
+    return tuple(gaussian_numbers(top, top))
+
+
+def first_rule(top, low):
+    """The pair of the polynomials that the first rule adds up."""
+    check_top_and_low(top, low, 1)
+    return _by_first_rule(top - 1, low - 1), moved(_by_first_rule(top - 1, low), low)
+
+
+def last_rule(top, low):
+    """The pair of the polynomials that the second rule adds up."""
+    check_top_and_low(top, low, 1)
+    return moved(_by_first_rule(top - 1, low - 1), top - low), _by_first_rule(top - 1, low)
+
+
+def split_terms(one, other, low):
+    """The tuple of the terms into which [one + other; low] is split."""
+    check_between(one, 0, MAX_LINE)
+    check_between(other, 0, MAX_LINE)
+    check_between(low, 0, MAX_TOP)
+    first_line = gaussian_numbers(one, one)
+    other_line = gaussian_numbers(other, other)
+    terms = []
+    for taken in range(low + 1):
+        left = low - taken
+        if left > one or taken > other:
+            terms.append(())
+        else:
+            terms.append(moved(multiplied(first_line[left], other_line[taken]), taken * (one - left)))
+    return tuple(terms)
+
+
+def unlike_poly(least, many):
+    """The product of 1 + q ** j for so many integers j from the least one on."""
+    check_between(least, 0, MAX_LINE)
+    check_between(many, 0, MAX_LINE)
+    poly = (1,)
+    for step in range(least, least + many):
+        poly = sum_with(poly, moved(poly, step), 1)
+    return poly
+
+
+def unlike_terms(least, many):
+    """The tuple of the shifted Gaussian numbers that add up to this product."""
+    check_between(least, 0, MAX_LINE)
+    check_between(many, 0, MAX_LINE)
+    line = gaussian_numbers(many, many)
+    return tuple([moved(poly, low * (low - 1) // 2 + least * low) for low, poly in enumerate(line)])
+
+
+def signed_sum(top):
+    """The sum of the Gaussian numbers of the top, those with an odd low taken away."""
+    check_between(top, 0, MAX_LINE)
+    total = ()
+    for low, poly in enumerate(gaussian_numbers(top, top)):
+        total = sum_with(total, poly, -1 if low & 1 else 1)
+    return total

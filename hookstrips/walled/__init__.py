@@ -1,0 +1,1 @@
+"""Walks between two walls."""

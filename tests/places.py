@@ -1,0 +1,109 @@
+"""What the parameters of functions take: right values, wrong ones, and those at the bounds."""
+
+from hookstrips.diagonal.bounds import Bounds
+from hookstrips.errors import (
+    InvalidBounds, InvalidBox, InvalidNumber, InvalidPoly, InvalidRow, InvalidWalk, InvalidWord, ParseError,
+)
+from hookstrips.shape.boxes import Box
+from hookstrips.walled.walks import Strip
+from tests.samples import (
+    FIVE, FOUR, LONGEST, NO_INTEGERS, NO_INTEGERS_INSIDE, NO_OBJECTS, NO_STRINGS, NO_TUPLES, SEVEN, STRIP, TOO_LONG,
+)
+
+
+class Place:
+    """What a parameter takes: a right value, wrong ones, the values at its bounds, and the error."""
+
+    def __init__(self, right, error, wrong, edges=()):
+        self.right = right
+        self.error = error
+        self.wrong = wrong
+        self.edges = edges
+
+    def is_kept(self, error, value):
+        if self.error is InvalidNumber:
+            return error.given is value
+        return self.error is not ParseError or error.spot == 0
+
+
+def integer(right, least=-LONGEST, most=LONGEST, edges=None):
+    """An integer from least to most; at these two the call holds beside other right values, or at `edges`."""
+    wrong = NO_INTEGERS + [least - 1, most + 1]
+    return Place(right, InvalidNumber, wrong, (least, most) if edges is None else edges)
+
+
+def goal(right, last):
+    """A height of a strip with the heights 1 to 4 that differs by 1 from the last one, which is 2 or 3."""
+    wrong = NO_INTEGERS + [height for height in range(-1, 7) if abs(height - last) != 1]
+    return Place(right, InvalidNumber, wrong, (last - 1, last + 1))
+
+
+def listing(right, most, error):
+    wrong = NO_TUPLES + NO_INTEGERS_INSIDE + [(1,) * (most + 1)]
+    return Place(right, error, wrong, ((), (1,) * most, (LONGEST, -LONGEST)))
+
+
+def poly(right):
+    wrong = NO_TUPLES + NO_INTEGERS_INSIDE + [(0,), (1, 0), (0, 0), (1, False), (1,) * 4001]
+    return Place(right, InvalidPoly, wrong, ((), (0, 1), (1,) * 4000, (-LONGEST, LONGEST)))
+
+
+def row(right):
+    wrong = NO_TUPLES + NO_INTEGERS_INSIDE + [
+        (0,), (1, 0), (-1,), (1, 2), (3, 1, 2), (201,), (201, 1), (LONGEST,), (1,) * 61, (200,) * 61, (1, True),
+    ]
+    return Place(right, InvalidRow, wrong, ((), (1,), (200,) * 60, (1,) * 60))
+
+
+def column_pairs(right):
+    falling = tuple((199 - at, 199 - at) for at in range(61))
+    wrong = NO_TUPLES + NO_INTEGERS_INSIDE + [
+        (1,), (1, 1), ([1, 1],), ((1,),), ((1, 1, 1),), ((),), ("11",), ((200, 1),), ((1, 200),), ((-1, 1),),
+        ((1, -1),), ((True, 1),), ((1, False),), ((1, None),), (("1", 1),), ((1, 1), (0, 1)), ((1, 1), (1, 0)),
+        ((0, 0), (1, 1)), ((3, 3), (2, 2), (2, 1)), ((TOO_LONG, 1),), (((1, 1),),), ((1, 1), None), falling,
+    ]
+    return Place(right, InvalidRow, wrong, ((), ((0, 0),), ((199, 0),), ((0, 199),), falling[:60]))
+
+
+def text(right):
+    return Place(right, ParseError, NO_STRINGS + ["1" * 4001, "1 " * 2001, "x", ""], ("-", "0"))
+
+
+def word(right):
+    wrong = NO_STRINGS + ["a", "ba", "bba", "aab ", " b", "aB", "B", "acb", "0b", "b" * 401, "a" * 400, "a" * 400 + "b"]
+    return Place(right, InvalidWord, wrong, ("", "b", "b" * 400, "a" * 399 + "b", "ab" * 200))
+
+
+def letter(right):
+    return Place(right, InvalidWord, NO_STRINGS + ["", "ab", "aa", "c", "A", "B", "b ", " ", "e"], ("a", "b"))
+
+
+def letters_of_four(right, one, other):
+    """A string of four of both letters."""
+    full = one * 4 + other * 4
+    wrong = NO_STRINGS + [
+        "", one, full[1:], full[:-1], full + one, full + other, full[:-1] + one, full[:-1] + "x", full[:-1] + " ",
+        full.upper(), "xxxxxxxx", full * 2, full * 500,
+    ]
+    return Place(right, InvalidWord, wrong, (full, full[::-1]))
+
+
+def box(right=FOUR, edges=()):
+    return Place(right, InvalidBox, [value for value in NO_OBJECTS if not isinstance(value, Box)], edges)
+
+
+def bounds(right=SEVEN, edges=(FIVE,)):
+    return Place(right, InvalidBounds, [value for value in NO_OBJECTS if not isinstance(value, Bounds)], edges)
+
+
+def strip(right=STRIP):
+    return Place(right, InvalidWalk, [value for value in NO_OBJECTS if not isinstance(value, Strip)])
+
+
+def walk(right):
+    """A walk in a strip with the heights 1 to 4."""
+    wrong = NO_TUPLES + NO_INTEGERS_INSIDE + [
+        (), (1,), (0, 1), (1, 0), (4, 5), (5, 4), (1, 3), (2, 2), (1, 2, 4), (2, 3, 4, 5), (True, 2), (2, True),
+        (1, 2, None), (1, 2, (3,)), (1, 2, "3"), (2, 1, 0, 1), (-1, -2), (1, 2) * 31 + (1,), (1, 2) * 32,
+    ]
+    return Place(right, InvalidWalk, wrong, ((1, 2), (4, 3), (1, 2) * 31, (1, 2, 3, 4, 3)))
