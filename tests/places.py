@@ -83,7 +83,7 @@ def letters_of_four(right, one, other):
     full = one * 4 + other * 4
     wrong = NO_STRINGS + [
         "", one, full[1:], full[:-1], full + one, full + other, full[:-1] + one, full[:-1] + "x", full[:-1] + " ",
-        full.upper(), "xxxxxxxx", full * 2, full * 500,
+        full.upper(), "xxxxxxxx", "x" + full[1:], full * 2, full * 500,
     ]
     return Place(right, InvalidWord, wrong, (full, full[::-1]))
 

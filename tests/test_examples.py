@@ -1,6 +1,7 @@
-"""The examples of the document hold, word for word."""
+"""The examples of the document hold, word for word, and so do those of README.md."""
 
 import importlib
+import pathlib
 import unittest
 
 import hookstrips.errors
@@ -53,6 +54,18 @@ class Examples(unittest.TestCase):
     def test_number_of_examples(self):
         many = [len(pairs_of(text)) for text in TEXTS.values()]
         self.assertEqual(many, [4, 5, 4, 4, 4, 5, 4, 6, 5, 5, 6])
+
+    def test_readme(self):
+        text = pathlib.Path(__file__).parent.with_name("README.md").read_text(encoding="ascii")
+        pairs = [pair for block in text.split("```")[1::2] if ">>> " in block for pair in pairs_of(block)]
+        self.assertGreater(len(pairs), 20)
+        names = {}
+        for asked, told in pairs:
+            with self.subTest(asked=asked):
+                if told is None:
+                    exec(asked, names)
+                else:
+                    self.assertEqual(repr(eval(asked, names)), told)
 
 
 if __name__ == "__main__":

@@ -95,8 +95,6 @@ def shifted(poly, many):
     """The polynomial times q ** many."""
     check_poly(poly)
     check_between(many, 0, MAX_NUMBERS)
-    if poly == ():
-        return ()
     check_length(len(poly) + many)
     return moved(poly, many)
 

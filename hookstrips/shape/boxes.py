@@ -91,14 +91,19 @@ def row_with_place(wide, high, place):
     parts = []
     part = 0
     while len(parts) < high:
-        # So many rims go on with the letter e: they stand ahead of those that go on with n.
-        ahead = comb(wide - part - 1 + high - len(parts), high - len(parts)) if part < wide else 0
+        ahead = rims_ahead(wide - part, high - len(parts))
         if place < ahead:
             part += 1
         else:
             place -= ahead
             parts.append(part)
     return row_of_rising(parts)
+
+
+def rims_ahead(wide, high):
+    """How many rims of a box, at least 1 high, stand ahead of those that begin with the letter n."""
+    # Those that begin with e; if the box is 0 wide this tells 0 of them.
+    return comb(wide - 1 + high, high)
 
 
 def row_of_rising(parts):
@@ -161,10 +166,7 @@ def place_of(box, row):
     check_in_box(box, row)
     place = 0
     for at, part in enumerate(rising_parts(box, row)):
-        # The rims with more letters e ahead of this n: the parts from here on are all greater.
-        left = box.high - at
-        if part < box.wide:
-            place += comb(box.wide - part - 1 + left, left)
+        place += rims_ahead(box.wide - part, box.high - at)
     return place
 
 

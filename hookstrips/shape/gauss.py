@@ -64,9 +64,9 @@ def gaussian_by_rows(top, low):
 
 
 def counted_by_size(rows):
-    """The polynomial that counts the rows of a list by size."""
+    """The polynomial that counts the rows of a list, which has at least one, by size."""
     sizes = [sum(row) for row in rows]
-    numbers = [0] * (max(sizes, default=-1) + 1)
+    numbers = [0] * (max(sizes) + 1)
     for size in sizes:
         numbers[size] += 1
     return tuple(numbers)

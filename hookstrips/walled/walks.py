@@ -220,11 +220,10 @@ def lightest_walk(strip, first, steps, last, goal):
 
 
 def _lightest_step(height, last, goal):
-    """The next height: straight to the last one or the goal, and then to and fro between both."""
+    """The next height of the walk of the rise 0."""
     if height == last:
         return goal
-    if height == goal:
-        return last
+    # The goal stands beside the last height, so this also leads back from the goal.
     return height + 1 if height < last else height - 1
 
 
