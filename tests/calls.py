@@ -2,13 +2,16 @@
 
 from hookstrips.base import numbers, polys
 from hookstrips.diagonal import bounds as bounding, steps, sums
+from hookstrips.endless import grown, series as endless
 from hookstrips.errors import InvalidOperation, InvalidPoly
+from hookstrips.kinds import cut, gaps
 from hookstrips.shape import boxes, gauss, ranks, rows, words
 from hookstrips.walled import walks
 from tests.places import (
-    bounds, box, column_pairs, goal, integer, letter, letters_of_four, listing, poly, row, strip, text, walk, word,
+    ascending_parts, bounds, box, column_pairs, goal, integer, kind, letter, letters_of_four, listing, pieces, poly,
+    row, series, sides, strip, text, walk, word,
 )
-from tests.samples import FOUR
+from tests.samples import FIVE, FOUR, PAIR, SEVEN
 
 LISTED = listing((3, -1), 60, InvalidOperation)
 SQUARE_SIDE = integer(2, 1, 200)
@@ -25,6 +28,13 @@ STEPS = integer(4, 0, 60)
 LAST = integer(2, 1, 4, (2, 4))
 WALKS = (strip(), BEGIN, STEPS, LAST, goal(3, 2))
 WALK = walk((2, 1, 2, 3))
+FAR = integer(6, 0, 400)
+TRIPLE_PRODUCT = (integer(5, 2, 400, (3, 400)), integer(2, 1, 4), FAR)
+ORDER = integer(3, 2, 8)
+GROWN = (bounds(), integer(6, 0, 1000))
+STAYED = integer(6, 0, 20)
+GAPS_LISTED = integer(9, 0, 60)
+GREATEST = integer(4, 0, 40)
 
 CALLS = (
     (numbers.binomial, (integer(6, 0, 1000), integer(2))),
@@ -142,4 +152,40 @@ CALLS = (
     (walks.mirrored_walk, (strip(), WALK)),
     (walks.sum_of_walks, WALKS),
     (walks.walks_of_sum, (bounds(bounding.Bounds(5, 2, 2, 2)), ANY_BOX)),
+    (endless.rows_number, (FAR,)),
+    (endless.rows_series, (FAR,)),
+    (endless.rows_by_factors, (FAR,)),
+    (endless.rows_by_listing, (FAR,)),
+    (endless.pentagon_series, (FAR,)),
+    (endless.parts_series, (ascending_parts((1, 4)), FAR)),
+    (endless.unlike_series, (FAR,)),
+    (endless.triple_series, TRIPLE_PRODUCT),
+    (endless.triple_by_factors, TRIPLE_PRODUCT),
+    (endless.series_times, (series((2, 0)), series((1, 3)))),
+    (endless.series_over, (series((2, 0)), series((1, 3)))),
+    (grown.grown_terms, GROWN),
+    (grown.grown_series, GROWN),
+    (grown.grown_number, GROWN),
+    (grown.grown_by_rows, (bounds(), STAYED)),
+    (grown.grown_product, (bounds(FIVE, (SEVEN,)), integer(6, 0, 1000))),
+    (grown.stays_from, (bounds(), STAYED)),
+    (grown.does_stay, (bounds(), ANY_BOX, STAYED)),
+    (gaps.Kind, (ORDER, integer(2, 1, 3))),
+    (gaps.is_gap_row, (kind(), None)),
+    (gaps.gap_fault, (kind(), row((2, 1)))),
+    (gaps.gap_rows, (kind(), GAPS_LISTED)),
+    (gaps.gap_series, (kind(), integer(9, 0, 200))),
+    (gaps.gap_table, (kind(), GAPS_LISTED)),
+    (gaps.gap_row_at, (kind(PAIR), GAPS_LISTED, integer(0, 0, 4))),
+    (gaps.gap_place, (kind(), row((2, 1)))),
+    (gaps.gap_poly, (kind(), GREATEST)),
+    (gaps.finite_sum, (kind(PAIR), GREATEST)),
+    (gaps.finite_parts, (kind(PAIR), GREATEST)),
+    (cut.successive_squares, (row((2, 1)),)),
+    (cut.cut_row, (row((2, 1)),)),
+    (cut.joined_row, (pieces(((2, (3,)), (1, (1,)))),)),
+    (cut.cut_rows, (ORDER, integer(6, 0, 24))),
+    (cut.rows_with_sides, (sides((2, 1)), integer(6, 0, 24))),
+    (cut.cut_series, (ORDER, integer(6, 0, 120))),
+    (cut.sides_series, (sides((2, 1)), integer(6, 0, 120))),
 )

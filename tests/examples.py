@@ -126,4 +126,46 @@ raises Refused(('column',))
 >>> next(walks(STRIP, 2, 4, 2, 4))
 raises InvalidNumber(4)
 """,
+    "hookstrips.endless.series": """
+>>> [rows_series(10), rows_number(400), rows_by_factors(6) == rows_by_listing(6), pentagon_series(12)]
+[(1, 1, 2, 3, 5, 7, 11, 15, 22, 30, 42), 6727090051741041926, True, (1, -1, -1, 0, 0, 1, 0, 1, 0, 0, 0, 0, -1)]
+>>> [triple_series(5, 2, 12), triple_by_factors(4, 2, 8), triple_series(3, 1, 12) == pentagon_series(12)]
+[(1, 0, -1, -1, 0, 0, 0, 0, 0, 1, 0, 1, 0), (1, 0, -2, 0, 0, 0, 0, 0, 2), True]
+>>> [series_times(rows_series(6), triple_series(5, 2, 6)), parts_series((1, 4, 6), 6), series_over((1, 0, 0, 0), (1, -1)), unlike_series(6)]
+[(1, 1, 1, 1, 2, 2, 3), (1, 1, 1, 1, 2, 2, 3), (1, 1), (1, 1, 1, 2, 2, 3, 4)]
+>>> rows_by_listing(21)
+raises TooMany(20)
+""",
+    "hookstrips.endless.grown": """
+>>> [grown_terms(FIVE, 20), grown_terms(SEVEN, 30)]
+[((-1, 1, 11), (0, 1, 0), (0, -1, 2), (1, 1, 9), (1, -1, 3)), ((-1, 1, 30), (0, 1, 0), (0, -1, 6), (1, 1, 26), (1, -1, 8))]
+>>> [grown_series(FIVE, 12), grown_series(SEVEN, 10), grown_product(FIVE, 8), grown_number(FIVE, 12)]
+[(1, 1, 1, 1, 2, 2, 3, 3, 4, 5, 6, 7, 9), (1, 1, 2, 3, 5, 7, 10, 14, 19, 26, 35), (1, 1, 1, 1, 2, 2, 3, 3, 4), 9]
+>>> [grown_by_rows(FIVE, 4), grown_product(Bounds(4, 2, 1, 1), 8), stays_from(FIVE, 8), stays_from(SEVEN, 8), does_stay(FIVE, FOUR, 4), does_stay(FIVE, FOUR, 8)]
+[(1, 1, 1, 1, 2), (1, 1, 0, 1, 1, 1, 1, 1, 2), 5, 8, True, False]
+>>> grown_product(SEVEN, 5)
+raises Refused(('product',))
+""",
+    "hookstrips.kinds.gaps": """
+>>> [gap_series(PAIR, 12), gap_series(Kind(2, 1), 8), gap_rows(PAIR, 9), gap_rows(TRIPLE, 5), str(TRIPLE), TRIPLE.modulus]
+[(1, 1, 1, 1, 2, 2, 3, 3, 4, 5, 6, 7, 9), (1, 0, 1, 1, 1, 1, 2, 2, 3), ((5, 3, 1), (6, 3), (7, 2), (8, 1), (9,)), ((3, 2), (4, 1), (5,)), 'kind 3, 2', 7]
+>>> [gap_table(TRIPLE, 6), is_gap_row(TRIPLE, (4, 4, 2, 1)), is_gap_row(TRIPLE, (4, 4, 3)), gap_fault(TRIPLE, (4, 4, 3)), gap_fault(TRIPLE, (2, 1, 1))]
+[((1, 0, 0, 0, 0, 0, 0), (0, 1, 1, 1, 1, 1, 1), (0, 0, 0, 1, 2, 2, 3), (0, 0, 0, 0, 0, 0, 1)), True, False, 3, 0]
+>>> [gap_poly(TRIPLE, 3), gap_poly(PAIR, 4), finite_sum(PAIR, 4), finite_parts(Kind(2, 1), 5)[1] == Box(4, 2), gap_row_at(PAIR, 9, 1), gap_place(PAIR, (8, 1))]
+[(1, 1, 1, 2, 2, 1, 2, 1), (1, 1, 1, 1, 2, 1, 1), (1, 1, 1, 1, 2, 1, 1), True, (6, 3), 3]
+>>> Kind(3, 4)
+raises InvalidNumber(4)
+""",
+    "hookstrips.kinds.cut": """
+>>> [successive_squares((4, 4, 3, 1)), successive_squares((5, 2, 2, 1)), successive_squares(()), successive_squares((1, 1, 1)), successive_squares((6,))]
+[(3, 1), (2, 1, 1), (), (1, 1, 1), (1,)]
+>>> [cut_row((4, 4, 3, 1)), cut_row((5, 2, 2, 1)), joined_row(((2, (3,)), (1, (1,)), (1, ()))), are_pieces(((1, ()), (1, (1,)))), are_pieces(())]
+[((3, (1, 1)), (1, ())), ((2, (3,)), (1, (1,)), (1, ())), (5, 2, 2, 1), False, True]
+>>> [cut_rows(2, 6), rows_with_sides((2, 1), 6), rows_with_sides((2, 1), 7), rows_with_sides((), 0)]
+[((3, 3), (4, 2), (6,)), ((2, 2, 2), (3, 2, 1)), ((3, 2, 2), (3, 3, 1), (4, 2, 1)), ((),)]
+>>> [cut_series(2, 8), cut_series(3, 8), sides_series((2, 1), 11), sides_series((), 2)]
+[(1, 1, 1, 1, 2, 2, 3, 3, 4), (1, 1, 2, 2, 3, 4, 6, 7, 10), (0, 0, 0, 0, 0, 1, 2, 3, 4, 5, 6, 7), (1, 0, 0)]
+>>> joined_row(((1, ()), (2, ())))
+raises InvalidOperation
+""",
 }

@@ -2,12 +2,15 @@
 
 from hookstrips.diagonal.bounds import Bounds
 from hookstrips.errors import (
-    InvalidBounds, InvalidBox, InvalidNumber, InvalidPoly, InvalidRow, InvalidWalk, InvalidWord, ParseError,
+    InvalidBounds, InvalidBox, InvalidKind, InvalidNumber, InvalidOperation, InvalidPoly, InvalidRow, InvalidWalk,
+    InvalidWord, ParseError,
 )
+from hookstrips.kinds.gaps import Kind
 from hookstrips.shape.boxes import Box
 from hookstrips.walled.walks import Strip
 from tests.samples import (
-    FIVE, FOUR, LONGEST, NO_INTEGERS, NO_INTEGERS_INSIDE, NO_OBJECTS, NO_STRINGS, NO_TUPLES, SEVEN, STRIP, TOO_LONG,
+    FIVE, FOUR, LONGEST, NO_INTEGERS, NO_INTEGERS_INSIDE, NO_OBJECTS, NO_STRINGS, NO_TUPLES, PAIR, SEVEN, STRIP,
+    TOO_LONG, TRIPLE,
 )
 
 
@@ -107,3 +110,41 @@ def walk(right):
         (1, 2, None), (1, 2, (3,)), (1, 2, "3"), (2, 1, 0, 1), (-1, -2), (1, 2) * 31 + (1,), (1, 2) * 32,
     ]
     return Place(right, InvalidWalk, wrong, ((1, 2), (4, 3), (1, 2) * 31, (1, 2, 3, 4, 3)))
+
+
+def kind(right=TRIPLE, edges=(PAIR, Kind(2, 1), Kind(8, 1), Kind(8, 8))):
+    return Place(right, InvalidKind, [value for value in NO_OBJECTS if not isinstance(value, Kind)], edges)
+
+
+def series(right):
+    wrong = NO_TUPLES + NO_INTEGERS_INSIDE + [(), (1,) * 402, (1, False), (1,) * 4001]
+    return Place(right, InvalidPoly, wrong, ((0,), (1,), (1, 0), (1,) * 401, (0,) * 401, (1, -LONGEST, LONGEST)))
+
+
+def ascending_parts(right):
+    wrong = NO_TUPLES + NO_INTEGERS_INSIDE + [
+        (0,), (0, 1), (-1, 1), (401,), (1, 401), (1, 1), (2, 1), (1, 3, 2), (1, 2, 2), (True, 2), (LONGEST,),
+        tuple(range(1, 402)), tuple(range(400)), (1,) * 401,
+    ]
+    return Place(right, InvalidOperation, wrong, ((), (1,), (400,), tuple(range(1, 401))))
+
+
+def sides(right):
+    wrong = NO_TUPLES + NO_INTEGERS_INSIDE + [
+        (0,), (1, 0), (11,), (11, 1), (1, 2), (3, 1, 2), (-1,), (2, True), (1,) * 8, (10,) * 8, (LONGEST,),
+    ]
+    return Place(right, InvalidOperation, wrong, ((), (1,), (10,), (1,) * 7, (10,) * 7))
+
+
+def pieces(right):
+    """Pairs of a side and of the row beside it."""
+    wrong = NO_TUPLES + NO_INTEGERS_INSIDE + [
+        (1,), (1, ()), ((1,),), ((1, (), ()),), ([1, ()],), ((1, []),), ((1, None),), ((1, 1),), ((True, ()),),
+        ((None, ()),), (((), 1),), ((0, ()),), ((-1, ()),), ((1, (0,)),), ((1, (True,)),), ((1, (1, 1)),),
+        ((2, (1, 2)),), ((2, (1, 1, 1)),), ((1, ()), (2, ())), ((1, ()), (1, (1,))), ((2, ()), (1, (2,))),
+        ((2, ()), (2, (1,))), ((1, ()), None), ((1, ()), (1,)), ((1, (200,)),), ((1, (199,)), (2, ())), ((61, ()),),
+        ((60, ()), (1, ())), ((1, ()),) * 61, ((1, (200,)),) * 5, ((LONGEST, ()),), ((TOO_LONG, ()),),
+        ((1, (TOO_LONG,)),),
+    ]
+    edges = ((), ((1, ()),), ((1, (199,)),), ((60, (140,) * 60),), ((1, ()),) * 60, ((30, ()), (30, ())))
+    return Place(right, InvalidOperation, wrong, edges)

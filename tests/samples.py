@@ -4,6 +4,7 @@ import itertools
 
 from hookstrips.diagonal.bounds import Bounds
 from hookstrips.errors import HookError, InvalidNumber
+from hookstrips.kinds.gaps import Kind
 from hookstrips.shape.boxes import Box
 from hookstrips.walled.walks import Strip
 
@@ -11,6 +12,8 @@ FOUR = Box(4, 4)
 FIVE = Bounds(5, 2, 1, 1)
 SEVEN = Bounds(7, 3, 2, 2)
 STRIP = Strip(5)
+PAIR = Kind(2, 2)
+TRIPLE = Kind(3, 2)
 
 # The greatest integer of sixty digits, and the least one of sixty-one.
 LONGEST = 10 ** 60 - 1
@@ -18,7 +21,7 @@ TOO_LONG = 10 ** 60
 
 EIGHT_DEEP = ((((((((1,),),),),),),),)
 
-OBJECTS = [HookError("a"), InvalidNumber(1), FOUR, FIVE, STRIP]
+OBJECTS = [HookError("a"), InvalidNumber(1), FOUR, FIVE, STRIP, PAIR]
 
 NO_INTEGERS = [
     None, True, False, "", "1", "-", [], [1], {}, {1: 2}, (), (1,), ((1, 1),), EIGHT_DEEP,
@@ -35,8 +38,8 @@ NO_INTEGERS_INSIDE = [
 ]
 
 NO_OBJECTS = [
-    None, True, False, 0, 4, TOO_LONG, "", "4", "box 4 wide, 4 high", "bounds 5 2 1 1", "strip 1 to 4", [], [4, 4], {},
-    {4: 4}, (), (4, 4), (5, 2, 1, 1), ((4, 4),), EIGHT_DEEP, *OBJECTS,
+    None, True, False, 0, 4, TOO_LONG, "", "4", "box 4 wide, 4 high", "bounds 5 2 1 1", "strip 1 to 4", "kind 3, 2", [],
+    [4, 4], {}, {4: 4}, (), (4, 4), (5, 2, 1, 1), ((4, 4),), EIGHT_DEEP, *OBJECTS,
 ]
 
 NO_STRINGS = [None, True, False, 0, 5, TOO_LONG, [], ["1"], {}, {"1": 1}, (), ("1",), EIGHT_DEEP, *OBJECTS]

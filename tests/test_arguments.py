@@ -7,16 +7,19 @@ import unittest
 
 from hookstrips.base import numbers, polys
 from hookstrips.diagonal import bounds as bounding, steps, sums
+from hookstrips.endless import grown, series
 from hookstrips.errors import (
-    InvalidBounds, InvalidBox, InvalidNumber, InvalidOperation, InvalidPoly, InvalidRow, InvalidWalk, InvalidWord,
-    Refused, TooMany,
+    InvalidBounds, InvalidBox, InvalidKind, InvalidNumber, InvalidOperation, InvalidPoly, InvalidRow, InvalidWalk,
+    InvalidWord, Refused, TooMany,
 )
+from hookstrips.kinds import cut, gaps
 from hookstrips.shape import boxes, gauss, ranks, rows, words
 from hookstrips.shape.boxes import Box
 from hookstrips.walled import walks
 from tests.calls import CALLS
 from tests.samples import (
-    EIGHT_DEEP, FIVE, FOUR, NO_INTEGERS, NO_INTEGERS_INSIDE, NO_OBJECTS, NO_STRINGS, NO_TUPLES, SEVEN, STRIP,
+    EIGHT_DEEP, FIVE, FOUR, NO_INTEGERS, NO_INTEGERS_INSIDE, NO_OBJECTS, NO_STRINGS, NO_TUPLES, PAIR, SEVEN, STRIP,
+    TRIPLE,
 )
 
 
@@ -169,6 +172,32 @@ class ErrorsBehindThen(unittest.TestCase):
         self.raises(Refused, ("window",), walks.walks_of_sum, bounding.Bounds(5, 2, 2, 2), Box(40, 0))
         self.raises(InvalidWalk, None, walks.place_of, STRIP, (1, 2) * 32)
 
+    def test_series_and_grown_boxes(self):
+        self.raises(InvalidNumber, 401, series.rows_by_listing, 401)
+        self.raises(TooMany, 20, series.rows_by_listing, 400)
+        self.raises(InvalidPoly, None, series.series_over, (), (2,))
+        self.raises(InvalidPoly, None, series.series_over, (1,), (2,) * 402)
+        for first in (0, 2, -1):
+            self.raises(InvalidOperation, None, series.series_over, (1,), (first, 1))
+        self.raises(InvalidNumber, 1001, grown.grown_product, SEVEN, 1001)
+        self.raises(InvalidBounds, None, grown.grown_product, "SEVEN", 1001)
+        self.raises(Refused, ("product",), grown.grown_product, SEVEN, 1000)
+        self.raises(InvalidBox, None, grown.does_stay, FIVE, FIVE, 21)
+
+    def test_gap_rows(self):
+        eight = gaps.Kind(8, 8)
+        self.raises(InvalidNumber, 61, gaps.gap_rows, eight, 61)
+        self.raises(TooMany, 3000, gaps.gap_rows, eight, 60)
+        self.raises(InvalidNumber, 61, gaps.gap_row_at, eight, 61, -1)
+        self.raises(InvalidNumber, -1, gaps.gap_row_at, eight, 60, -1)
+        self.raises(InvalidRow, None, gaps.gap_place, PAIR, (1, 2))
+        self.raises(InvalidOperation, None, gaps.gap_place, PAIR, (2, 1))
+        self.raises(InvalidOperation, None, gaps.gap_place, PAIR, (61,))
+        for call in (gaps.finite_sum, gaps.finite_parts):
+            self.raises(InvalidNumber, 41, call, TRIPLE, 41)
+            self.raises(InvalidOperation, None, call, TRIPLE, 40)
+            self.raises(InvalidKind, None, call, (2, 2), 41)
+
 
 class JudgedValues(unittest.TestCase):
     def test_every_value_is_accepted(self):
@@ -178,7 +207,8 @@ class JudgedValues(unittest.TestCase):
             lambda value: rows.has_square((200,) * 60, value), lambda value: boxes.is_rim(FOUR, value),
             lambda value: ranks.is_box_word(FOUR, value), lambda value: bounding.is_bounded(FIVE, value),
             lambda value: walks.is_walk(STRIP, value), lambda value: value in FOUR, lambda value: FOUR == value,
-            lambda value: FIVE == value, lambda value: STRIP == value,
+            lambda value: FIVE == value, lambda value: STRIP == value, lambda value: PAIR == value,
+            lambda value: gaps.is_gap_row(gaps.Kind(8, 8), value), cut.are_pieces,
         )
         for value in values + [(1,) * 5000, "a" * 4000, "b" * 4000, [[]] * 100]:
             for at, judge in enumerate(judges):
@@ -190,6 +220,8 @@ class JudgedValues(unittest.TestCase):
             numbers.is_integer(True), polys.is_poly((True,)), rows.is_row((True,)), rows.has_square((1,), (True, 1)),
             (True,) in FOUR, (2, True) in FOUR, bounding.is_bounded(FIVE, (True,)),
             bounding.is_bounded(FIVE, (2, True)), walks.is_walk(STRIP, (True, 2)), walks.is_walk(STRIP, (2, True)),
+            gaps.is_gap_row(PAIR, (True,)), gaps.is_gap_row(PAIR, (3, True)), cut.are_pieces(((True, ()),)),
+            cut.are_pieces(((1, (True,)),)),
         ):
             self.assertIs(judged, False)
 
@@ -197,7 +229,8 @@ class JudgedValues(unittest.TestCase):
         for call, values, error in (
             (boxes.is_rim, ((4, 4), None), InvalidBox), (ranks.is_box_word, (None, None), InvalidBox),
             (bounding.is_bounded, (FOUR, None), InvalidBounds), (walks.is_walk, (5, None), InvalidWalk),
-            (words.raised, ((1,), "c"), InvalidWord),
+            (words.raised, ((1,), "c"), InvalidWord), (gaps.is_gap_row, ((2, 2), ()), InvalidKind),
+            (grown.does_stay, (FIVE, None, 4), InvalidBox),
         ):
             with self.assertRaises(error):
                 call(*values)

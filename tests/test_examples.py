@@ -6,6 +6,7 @@ import unittest
 
 import hookstrips.errors
 from hookstrips.diagonal.bounds import Bounds
+from hookstrips.kinds.gaps import Kind
 from hookstrips.shape.boxes import Box
 from hookstrips.shape.gauss import gaussian
 from hookstrips.walled.walks import Strip
@@ -14,7 +15,8 @@ from tests.examples import TEXTS
 # What most examples use, and names of modules ahead of that of an example.
 SHARED = {
     "FOUR": Box(4, 4), "FIVE": Bounds(5, 2, 1, 1), "SEVEN": Bounds(7, 3, 2, 2),
-    "Box": Box, "Bounds": Bounds, "Strip": Strip, "gaussian": gaussian,
+    "PAIR": Kind(2, 2), "TRIPLE": Kind(3, 2),
+    "Box": Box, "Bounds": Bounds, "Strip": Strip, "Kind": Kind, "gaussian": gaussian,
 }
 ERRORS = vars(hookstrips.errors)
 
@@ -53,7 +55,7 @@ class Examples(unittest.TestCase):
 
     def test_number_of_examples(self):
         many = [len(pairs_of(text)) for text in TEXTS.values()]
-        self.assertEqual(many, [4, 5, 4, 4, 4, 5, 4, 6, 5, 5, 6])
+        self.assertEqual(many, [4, 5, 4, 4, 4, 5, 4, 6, 5, 5, 6, 4, 4, 4, 5])
 
     def test_readme(self):
         text = pathlib.Path(__file__).parent.with_name("README.md").read_text(encoding="ascii")

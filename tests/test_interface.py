@@ -16,6 +16,12 @@ CONSTANTS = {
     "hookstrips.diagonal.bounds": {"MAX_MODULUS": 17, "MAX_LISTED": 5000},
     "hookstrips.diagonal.steps": {"MAX_STEPPED": 12},
     "hookstrips.walled.walks": {"MAX_WALLS": 12, "MAX_WALK": 62, "MOST_WALKS": 2000, "FAR_STEPS": 10000},
+    "hookstrips.endless.series": {"MAX_SIZE": 400, "MOST_LISTED": 20},
+    "hookstrips.endless.grown": {"MAX_GROWN": 1000, "MAX_STAY": 20, "PRODUCT": "product"},
+    "hookstrips.kinds.gaps": {
+        "MOST_ORDER": 8, "MOST_SIZE": 200, "MOST_LISTED_SIZE": 60, "MOST_ROWS": 3000, "MOST_GREATEST": 40,
+    },
+    "hookstrips.kinds.cut": {"MOST_SIZE": 120, "MOST_ROWS_SIZE": 24, "MOST_SIDES": 7},
 }
 
 FUNCTIONS = {
@@ -72,6 +78,24 @@ FUNCTIONS = {
         " walk_at(strip,first,steps,last,goal,place) place_of(strip,walk) lightest_walk(strip,first,steps,last,goal)"
         " mirrored_walk(strip,walk) sum_of_walks(strip,first,steps,last,goal) walks_of_sum(bounds,box)"
     ),
+    "hookstrips.endless.series": (
+        "rows_number(size) rows_series(size) rows_by_factors(size) rows_by_listing(size) pentagon_series(size)"
+        " parts_series(parts,size) unlike_series(size) triple_series(modulus,first,size)"
+        " triple_by_factors(modulus,first,size) series_times(one,other) series_over(one,other)"
+    ),
+    "hookstrips.endless.grown": (
+        "grown_terms(bounds,size) grown_series(bounds,size) grown_number(bounds,size) grown_by_rows(bounds,size)"
+        " grown_product(bounds,size) stays_from(bounds,size) does_stay(bounds,box,size)"
+    ),
+    "hookstrips.kinds.gaps": (
+        "is_gap_row(kind,value) gap_fault(kind,row) gap_rows(kind,size) gap_series(kind,size) gap_table(kind,size)"
+        " gap_row_at(kind,size,place) gap_place(kind,row) gap_poly(kind,greatest) finite_sum(kind,greatest)"
+        " finite_parts(kind,greatest)"
+    ),
+    "hookstrips.kinds.cut": (
+        "successive_squares(row) cut_row(row) are_pieces(value) joined_row(pieces) cut_rows(order,size)"
+        " rows_with_sides(sides,size) cut_series(order,size) sides_series(sides,size)"
+    ),
 }
 
 # Each class with what it is made of, its properties, and its methods by signs.
@@ -84,6 +108,7 @@ CLASSES = {
         "modulus first alpha beta low low_diagonal high high_diagonal window turned_bounds", "__init__ __eq__ __str__",
     ),
     ("hookstrips.walled.walks", "Strip"): ("walls", "walls highest", "__init__ __eq__ __str__"),
+    ("hookstrips.kinds.gaps", "Kind"): ("order,first", "order first modulus", "__init__ __eq__ __str__"),
 }
 
 
@@ -100,7 +125,7 @@ class Interface(unittest.TestCase):
             module = importlib.import_module(path)
             for name, worth in constants.items():
                 with self.subTest(path=path, name=name):
-                    self.assertIs(type(getattr(module, name)), int)
+                    self.assertIs(type(getattr(module, name)), type(worth))
                     self.assertEqual(getattr(module, name), worth)
 
     def test_functions(self):

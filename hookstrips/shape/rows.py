@@ -9,11 +9,14 @@ MAX_PART = 200
 
 def is_row(value):
     """Whether the value is a row with at most 60 parts, each at most 200."""
-    if not isinstance(value, tuple) or len(value) > MAX_PARTS:
+    return isinstance(value, tuple) and len(value) <= MAX_PARTS and is_falling(value, 1, MAX_PART)
+
+
+def is_falling(numbers, least, most):
+    """Whether these are integers from least to most, none above the one ahead of it."""
+    if not all([is_between(number, least, most) for number in numbers]):
         return False
-    if not all([is_between(part, 1, MAX_PART) for part in value]):
-        return False
-    return all([ahead >= behind for ahead, behind in zip(value, value[1:])])
+    return all([ahead >= behind for ahead, behind in zip(numbers, numbers[1:])])
 
 
 def check_row(row):

@@ -1,0 +1,1 @@
+"""What has no end: series of rows, and boxes that grow."""

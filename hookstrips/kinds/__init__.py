@@ -1,0 +1,1 @@
+"""Lots of rows that look unlike each other, one to one."""
