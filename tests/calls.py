@@ -4,14 +4,16 @@ from hookstrips.base import numbers, polys
 from hookstrips.diagonal import bounds as bounding, steps, sums
 from hookstrips.endless import grown, series as endless
 from hookstrips.errors import InvalidOperation, InvalidPoly
-from hookstrips.kinds import cut, gaps
+from hookstrips.kinds import cut, folded, gaps, marks, rests
 from hookstrips.shape import boxes, gauss, ranks, rows, words
+from hookstrips.use.ledger import Ledger
 from hookstrips.walled import walks
 from tests.places import (
-    ascending_parts, bounds, box, column_pairs, goal, integer, kind, letter, letters_of_four, listing, pieces, poly,
-    row, series, sides, strip, text, walk, word,
+    ascending_parts, bounds, box, class_numbers, column_pairs, goal, integer, kind, known_name, known_pledge, letter,
+    letters_of_four, listing, new_name, new_names, path, peaks, pieces, pledge, poly, row, series, sides, strip, text,
+    walk, word,
 )
-from tests.samples import FIVE, FOUR, PAIR, SEVEN
+from tests.samples import FIVE, FOUR, LONGEST, PAIR, SEVEN, TRIPLE
 
 LISTED = listing((3, -1), 60, InvalidOperation)
 SQUARE_SIDE = integer(2, 1, 200)
@@ -35,6 +37,31 @@ GROWN = (bounds(), integer(6, 0, 1000))
 STAYED = integer(6, 0, 20)
 GAPS_LISTED = integer(9, 0, 60)
 GREATEST = integer(4, 0, 40)
+REST_LISTED = integer(6, 0, 40)
+PATH = path((1, 0, 1, 0, 1, 2))
+OF_TRIPLE = kind(TRIPLE, ())
+NUMBERS = class_numbers((2, 1))
+
+
+def ledger_of_two():
+    """A ledger with the names a and b, a pledge, two changes that can be taken back, and one to do again."""
+    ledger = Ledger()
+    ledger.put("a", (3, 1))
+    ledger.put("b", (2, 2, 1))
+    ledger.demand(("size", "a", 4))
+    ledger.cross("b")
+    ledger.undo()
+    return ledger
+
+
+def method(name, keyword=None):
+    """The call of a method on such a ledger, by position or with one keyword."""
+    def call(*values):
+        asked = getattr(ledger_of_two(), name)
+        return asked(*values) if keyword is None else asked(**{keyword: values[0]})
+    call.__name__ = name
+    return call
+
 
 CALLS = (
     (numbers.binomial, (integer(6, 0, 1000), integer(2))),
@@ -188,4 +215,43 @@ CALLS = (
     (cut.rows_with_sides, (sides((2, 1)), integer(6, 0, 24))),
     (cut.cut_series, (ORDER, integer(6, 0, 120))),
     (cut.sides_series, (sides((2, 1)), integer(6, 0, 120))),
+    (rests.is_rest_row, (kind(), None)),
+    (rests.is_rank_row, (kind(), None)),
+    (rests.let_parts, (kind(), integer(9, 0, 200))),
+    (rests.rest_rows, (kind(), REST_LISTED)),
+    (rests.rank_rows, (kind(), REST_LISTED)),
+    (rests.rest_series, (kind(), integer(6, 0, 200))),
+    (rests.rank_series, (kind(), integer(6, 0, 200))),
+    (rests.rest_table, (kind(), REST_LISTED)),
+    (rests.rank_span, (row((2, 1)),)),
+    (rests.rank_kinds, (row((2, 1)),)),
+    (folded.is_path, (kind(), None)),
+    (folded.path_of, (kind(), row((4, 2, 1)))),
+    (folded.row_of_path, (OF_TRIPLE, PATH)),
+    (folded.peaks_of, (OF_TRIPLE, PATH)),
+    (folded.path_by_peaks, (OF_TRIPLE, peaks(((2, 1), (5, 2))))),
+    (folded.ranked, (kind(), row((4, 2, 1)))),
+    (folded.gap_row_of, (kind(), row((3, 3, 1)))),
+    (marks.marks_of, (row((2, 1)),)),
+    (marks.class_of, (row((2, 1)),)),
+    (marks.class_for, (kind(), row((4, 2, 1)))),
+    (marks.relative_heights, (OF_TRIPLE, PATH)),
+    (marks.is_class, (kind(), None)),
+    (marks.class_least, (kind(), NUMBERS)),
+    (marks.class_series, (kind(), NUMBERS, integer(10, 0, 100))),
+    (marks.classes_to, (kind(), integer(6, 0, 40))),
+    (marks.rows_of_class, (kind(), NUMBERS, integer(8, 0, 30))),
+    (method("put"), (new_name("c"), row((2, 1)))),
+    (method("twice"), (new_name("c"), known_name("a"))),
+    (method("lessen"), (known_name("b"),)),
+    (method("lift"), (known_name("b"), letter("a"))),
+    (method("turn"), (known_name("b"),)),
+    (method("cross"), (known_name("b"),)),
+    (method("drop"), (known_name("b"),)),
+    (method("rename"), (new_names({"a": "a", "b": "c"}),)),
+    (method("demand"), (pledge(("size", "b", 5)),)),
+    (method("waive"), (known_pledge(("size", "a", 4)),)),
+    (method("undo", "many"), (integer(1, 0, LONGEST),)),
+    (method("redo", "many"), (integer(1, 0, LONGEST),)),
+    (method("row_named"), (known_name("b"),)),
 )

@@ -156,6 +156,38 @@ raises Refused(('product',))
 >>> Kind(3, 4)
 raises InvalidNumber(4)
 """,
+    "hookstrips.kinds.rests": """
+>>> [rest_rows(TRIPLE, 6), rank_rows(TRIPLE, 6)]
+[((1, 1, 1, 1, 1, 1), (3, 1, 1, 1), (3, 3), (4, 1, 1), (6,)), ((3, 2, 1), (3, 3), (4, 1, 1), (4, 2), (5, 1))]
+>>> [rest_series(PAIR, 9), rank_series(PAIR, 9) == rest_series(PAIR, 9), rank_rows(PAIR, 7), let_parts(TRIPLE, 9), rest_rows(PAIR, 0)]
+[(1, 1, 1, 1, 2, 2, 3, 3, 4, 5), True, ((3, 3, 1), (4, 1, 1, 1), (4, 2, 1)), (1, 3, 4, 6, 8), ((),)]
+>>> [rest_table(TRIPLE, 7), rank_span((5, 5, 1)), rank_span(()), rank_kinds((5, 5, 1))[:4], rank_kinds((3, 1))[:3], is_rank_row(PAIR, (3, 1)), is_rest_row(PAIR, (3, 1))]
+[{2: 2, 3: 1, 4: 1, 5: 1, 7: 1}, (2, 3), None, ((3, 1), (3, 2), (4, 1), (4, 2)), ((2, 1), (2, 2), (3, 1)), True, False]
+>>> rank_rows(PAIR, 41)
+raises InvalidNumber(41)
+""",
+    "hookstrips.kinds.folded": """
+>>> [path_of(PAIR, (4, 2)), path_of(TRIPLE, (4, 2, 1)), peaks_of(TRIPLE, (1, 0, 1, 0, 1, 2)), row_of_path(PAIR, (0, 1, 0, 0, 1)), path_of(TRIPLE, ())]
+[(0, 0, 1, 0, 1), (1, 0, 1, 0, 1, 2), ((2, 1), (5, 2)), (4, 1), (1,)]
+>>> [ranked(PAIR, (4, 2)), ranked(PAIR, (3,)), ranked(TRIPLE, (4, 2, 1)), ranked(TRIPLE, (3,)), gap_row_of(TRIPLE, (5, 4)), ranked(Kind(3, 3), (5, 2, 2))]
+[(3, 3), (2, 1), (3, 3, 1), (3,), (5, 2, 2), (3, 3, 2, 1)]
+>>> [path_by_peaks(PAIR, ((1, 1), (4, 1))), path_by_peaks(PAIR, ((1, 1), (2, 1))), path_by_peaks(TRIPLE, ()), is_path(PAIR, (0, 1, 2)), is_path(TRIPLE, (1, 0))]
+[(0, 1, 0, 0, 1), None, (1,), False, False]
+>>> path_of(PAIR, (2, 1))
+raises InvalidOperation
+""",
+    "hookstrips.kinds.marks": """
+>>> [marks_of((4, 2, 1)), marks_of((6, 5, 3, 3, 1)), class_of((6, 5, 3, 3, 1)), class_for(TRIPLE, (4, 2, 1)), class_for(TRIPLE, (8,)), class_of(())]
+[(1, 2, 1), (1, 1, 2, 1, 2), (3, 2), (2, 1), (1, 0), ()]
+>>> [relative_heights(TRIPLE, (1, 0, 1, 0, 1, 2)), relative_heights(TRIPLE, (1, 2, 1, 0, 0, 1, 2)), relative_heights(TRIPLE, (1, 2)), relative_heights(PAIR, (0, 0, 1))]
+[(1, 2), (1, 2), (1,), (1,)]
+>>> [class_least(TRIPLE, (2, 1)), class_series(TRIPLE, (2, 1), 10), class_series(PAIR, (2,), 8), classes_to(TRIPLE, 6), is_class(TRIPLE, (1, 2))]
+[6, (0, 0, 0, 0, 0, 0, 1, 2, 3, 4, 5), (0, 0, 0, 0, 1, 1, 2, 2, 3), ((0, 0), (1, 0), (1, 1), (2, 0), (2, 1)), False]
+>>> rows_of_class(TRIPLE, (2, 1), 8)
+((4, 2, 2), (4, 3, 1), (5, 2, 1))
+>>> class_series(TRIPLE, (1, 2), 5)
+raises InvalidOperation
+""",
     "hookstrips.kinds.cut": """
 >>> [successive_squares((4, 4, 3, 1)), successive_squares((5, 2, 2, 1)), successive_squares(()), successive_squares((1, 1, 1)), successive_squares((6,))]
 [(3, 1), (2, 1, 1), (), (1, 1, 1), (1,)]
@@ -167,5 +199,16 @@ raises InvalidNumber(4)
 [(1, 1, 1, 1, 2, 2, 3, 3, 4), (1, 1, 2, 2, 3, 4, 6, 7, 10), (0, 0, 0, 0, 0, 1, 2, 3, 4, 5, 6, 7), (1, 0, 0)]
 >>> joined_row(((1, ()), (2, ())))
 raises InvalidOperation
+""",
+    "hookstrips.use.ledger": """
+>>> ledger, kept = Ledger(), ("size", "a", 4)
+>>> [ledger.put("a", (3, 1)), ledger.demand(kept), ledger.demand(("box", "a", 3, 3)), ledger.cross("a"), ledger.turn("a")]
+[((), ('a: 3 1',)), ((), ()), ((), ()), (('a: 3 1',), ('a: 2 2',)), ((), ())]
+>>> ledger.lessen("a")
+raises Refused(('size', 'a', 4))
+>>> [ledger.twice("b", "a")[1], ledger.lift("b", "b"), ledger.lessen("b")[1], ledger.changes, str(ledger), kept in ledger]
+[('b: 2 2',), (('b: 2 2',), ('b: 3 2 1',)), ('b: 2 2',), 8, 'ledger of 2 rows, 2 pledges', True]
+>>> [ledger.undo(many=2)[0] == ledger.twin().redo(many=2)[1], ledger.labels, ledger.undo(many=3)[1], list(ledger)]
+[True, ('a', 'b'), ('a: 3 1',), ['a: 3 1']]
 """,
 }

@@ -10,13 +10,14 @@ from hookstrips.diagonal import bounds as bounding, steps, sums
 from hookstrips.endless import grown, series
 from hookstrips.errors import (
     InvalidBounds, InvalidBox, InvalidKind, InvalidNumber, InvalidOperation, InvalidPoly, InvalidRow, InvalidWalk,
-    InvalidWord, Refused, TooMany,
+    InvalidWord, NothingToUndo, Refused, TooMany,
 )
-from hookstrips.kinds import cut, gaps
+from hookstrips.kinds import cut, folded, gaps, marks, rests
 from hookstrips.shape import boxes, gauss, ranks, rows, words
 from hookstrips.shape.boxes import Box
+from hookstrips.use.ledger import is_pledge
 from hookstrips.walled import walks
-from tests.calls import CALLS
+from tests.calls import CALLS, ledger_of_two
 from tests.samples import (
     EIGHT_DEEP, FIVE, FOUR, NO_INTEGERS, NO_INTEGERS_INSIDE, NO_OBJECTS, NO_STRINGS, NO_TUPLES, PAIR, SEVEN, STRIP,
     TRIPLE,
@@ -70,7 +71,7 @@ class Arguments(unittest.TestCase):
                     with self.subTest(call=call.__name__, at=at, value=str(value)[:50]):
                         try:
                             first = result_of(call, values)
-                        except (InvalidOperation, TooMany, Refused) as error:
+                        except (InvalidOperation, TooMany, Refused, NothingToUndo) as error:
                             # These come behind the check of the arguments.
                             self.assertIsNot(type(error), place.error)
                         else:
@@ -198,6 +199,27 @@ class ErrorsBehindThen(unittest.TestCase):
             self.raises(InvalidOperation, None, call, TRIPLE, 40)
             self.raises(InvalidKind, None, call, (2, 2), 41)
 
+    def test_rest_rows_and_rank_rows(self):
+        eight = gaps.Kind(8, 8)
+        for call in (rests.rest_rows, rests.rank_rows):
+            self.raises(InvalidNumber, 41, call, eight, 41)
+            self.raises(TooMany, 3000, call, eight, 40)
+            self.raises(InvalidKind, None, call, (8, 8), 41)
+
+    def test_paths_and_classes(self):
+        far = (200, 200, 199)
+        for call in (folded.path_of, folded.ranked):
+            self.raises(InvalidRow, None, call, TRIPLE, far[::-1])
+            self.raises(InvalidOperation, None, call, TRIPLE, far)
+            self.raises(TooMany, 400, call, gaps.Kind(4, 1), far)
+        self.raises(InvalidRow, None, folded.gap_row_of, PAIR, (1, 2))
+        self.raises(InvalidOperation, None, folded.gap_row_of, PAIR, (1, 1))
+        self.raises(InvalidOperation, None, marks.class_for, PAIR, (1, 1))
+        self.raises(InvalidOperation, None, marks.class_series, PAIR, (1, 1), 101)
+        self.raises(InvalidNumber, 101, marks.class_series, PAIR, (1,), 101)
+        self.raises(InvalidNumber, 31, marks.rows_of_class, gaps.Kind(8, 8), (0,) * 7, 31)
+        self.raises(TooMany, 3000, marks.rows_of_class, gaps.Kind(8, 8), (0,) * 7, 30)
+
 
 class JudgedValues(unittest.TestCase):
     def test_every_value_is_accepted(self):
@@ -209,6 +231,9 @@ class JudgedValues(unittest.TestCase):
             lambda value: walks.is_walk(STRIP, value), lambda value: value in FOUR, lambda value: FOUR == value,
             lambda value: FIVE == value, lambda value: STRIP == value, lambda value: PAIR == value,
             lambda value: gaps.is_gap_row(gaps.Kind(8, 8), value), cut.are_pieces,
+            lambda value: rests.is_rest_row(TRIPLE, value), lambda value: rests.is_rank_row(TRIPLE, value),
+            lambda value: folded.is_path(TRIPLE, value), lambda value: marks.is_class(TRIPLE, value), is_pledge,
+            lambda value: value in ledger_of_two(), lambda value: ledger_of_two() == value,
         )
         for value in values + [(1,) * 5000, "a" * 4000, "b" * 4000, [[]] * 100]:
             for at, judge in enumerate(judges):
@@ -221,7 +246,9 @@ class JudgedValues(unittest.TestCase):
             (True,) in FOUR, (2, True) in FOUR, bounding.is_bounded(FIVE, (True,)),
             bounding.is_bounded(FIVE, (2, True)), walks.is_walk(STRIP, (True, 2)), walks.is_walk(STRIP, (2, True)),
             gaps.is_gap_row(PAIR, (True,)), gaps.is_gap_row(PAIR, (3, True)), cut.are_pieces(((True, ()),)),
-            cut.are_pieces(((1, (True,)),)),
+            cut.are_pieces(((1, (True,)),)), rests.is_rest_row(TRIPLE, (True,)), rests.is_rank_row(TRIPLE, (True,)),
+            folded.is_path(TRIPLE, (True,)), folded.is_path(TRIPLE, (1, False, 1)), marks.is_class(TRIPLE, (1, False)),
+            marks.is_class(TRIPLE, (True, True)), is_pledge(("size", "a", True)), is_pledge(("gap", "a", 2, True)),
         ):
             self.assertIs(judged, False)
 
@@ -230,7 +257,9 @@ class JudgedValues(unittest.TestCase):
             (boxes.is_rim, ((4, 4), None), InvalidBox), (ranks.is_box_word, (None, None), InvalidBox),
             (bounding.is_bounded, (FOUR, None), InvalidBounds), (walks.is_walk, (5, None), InvalidWalk),
             (words.raised, ((1,), "c"), InvalidWord), (gaps.is_gap_row, ((2, 2), ()), InvalidKind),
-            (grown.does_stay, (FIVE, None, 4), InvalidBox),
+            (grown.does_stay, (FIVE, None, 4), InvalidBox), (rests.is_rest_row, (3, ()), InvalidKind),
+            (rests.is_rank_row, (None, ()), InvalidKind), (folded.is_path, (FIVE, (1,)), InvalidKind),
+            (marks.is_class, ((3, 2), (0, 0)), InvalidKind),
         ):
             with self.assertRaises(error):
                 call(*values)

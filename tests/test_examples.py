@@ -55,7 +55,7 @@ class Examples(unittest.TestCase):
 
     def test_number_of_examples(self):
         many = [len(pairs_of(text)) for text in TEXTS.values()]
-        self.assertEqual(many, [4, 5, 4, 4, 4, 5, 4, 6, 5, 5, 6, 4, 4, 4, 5])
+        self.assertEqual(many, [4, 5, 4, 4, 4, 5, 4, 6, 5, 5, 6, 4, 4, 4, 4, 4, 5, 5, 5])
 
     def test_readme(self):
         text = pathlib.Path(__file__).parent.with_name("README.md").read_text(encoding="ascii")

@@ -22,6 +22,9 @@ CONSTANTS = {
         "MOST_ORDER": 8, "MOST_SIZE": 200, "MOST_LISTED_SIZE": 60, "MOST_ROWS": 3000, "MOST_GREATEST": 40,
     },
     "hookstrips.kinds.cut": {"MOST_SIZE": 120, "MOST_ROWS_SIZE": 24, "MOST_SIDES": 7},
+    "hookstrips.kinds.rests": {"MAX_LISTED": 3000, "MAX_SIZE": 200, "MAX_ROWS": 40},
+    "hookstrips.kinds.folded": {"MOST_HEIGHTS": 401},
+    "hookstrips.use.ledger": {"MAX_ROWS": 6, "MAX_PLEDGES": 10, "MAX_PARTS": 60, "MAX_PART": 200},
 }
 
 FUNCTIONS = {
@@ -96,19 +99,39 @@ FUNCTIONS = {
         "successive_squares(row) cut_row(row) are_pieces(value) joined_row(pieces) cut_rows(order,size)"
         " rows_with_sides(sides,size) cut_series(order,size) sides_series(sides,size)"
     ),
+    "hookstrips.kinds.rests": (
+        "is_rest_row(kind,value) is_rank_row(kind,value) let_parts(kind,most) rest_rows(kind,size) rank_rows(kind,size)"
+        " rest_series(kind,size) rank_series(kind,size) rest_table(kind,size) rank_span(row) rank_kinds(row)"
+    ),
+    "hookstrips.kinds.folded": (
+        "is_path(kind,value) path_of(kind,row) row_of_path(kind,path) peaks_of(kind,path) path_by_peaks(kind,peaks)"
+        " ranked(kind,row) gap_row_of(kind,row)"
+    ),
+    "hookstrips.kinds.marks": (
+        "marks_of(row) class_of(row) class_for(kind,row) relative_heights(kind,path) is_class(kind,value)"
+        " class_least(kind,numbers) class_series(kind,numbers,size) classes_to(kind,size)"
+        " rows_of_class(kind,numbers,size)"
+    ),
+    "hookstrips.use.ledger": "is_pledge(value)",
 }
 
-# Each class with what it is made of, its properties, and its methods by signs.
+# Each class with what it is made of, its properties, its methods by signs, and its other methods.
 CLASSES = {
     ("hookstrips.shape.boxes", "Box"): (
-        "wide,high", "wide high number turned_box", "__init__ __contains__ __eq__ __str__",
+        "wide,high", "wide high number turned_box", "__init__ __contains__ __eq__ __str__", "",
     ),
     ("hookstrips.diagonal.bounds", "Bounds"): (
         "modulus,first,alpha,beta",
         "modulus first alpha beta low low_diagonal high high_diagonal window turned_bounds", "__init__ __eq__ __str__",
+        "",
     ),
-    ("hookstrips.walled.walks", "Strip"): ("walls", "walls highest", "__init__ __eq__ __str__"),
-    ("hookstrips.kinds.gaps", "Kind"): ("order,first", "order first modulus", "__init__ __eq__ __str__"),
+    ("hookstrips.walled.walks", "Strip"): ("walls", "walls highest", "__init__ __eq__ __str__", ""),
+    ("hookstrips.kinds.gaps", "Kind"): ("order,first", "order first modulus", "__init__ __eq__ __str__", ""),
+    ("hookstrips.use.ledger", "Ledger"): (
+        "", "labels lines pledges changes", "__init__ __contains__ __len__ __iter__ __eq__ __str__",
+        "put(name,row) twice(name,one) lessen(name) lift(name,letter) turn(name) cross(name) drop(name) rename(names)"
+        " demand(pledge) waive(pledge) undo(*many=1) redo(*many=1) trial() during(call) twin() row_named(name)",
+    ),
 }
 
 
@@ -143,20 +166,35 @@ class Interface(unittest.TestCase):
                         self.assertIs(each.default, inspect.Parameter.empty)
 
     def test_classes(self):
-        for (path, name), (names, properties, methods) in CLASSES.items():
+        for (path, name), (names, properties, signs, methods) in CLASSES.items():
             module = importlib.import_module(path)
             with self.subTest(path=path, name=name):
                 self.assertIn(name, defined_in(module))
                 made = getattr(module, name)
-                parameters = inspect.signature(made).parameters.values()
-                self.assertEqual([each.name for each in parameters], names.split(","))
+                self.assertEqual(",".join(inspect.signature(made).parameters), names)
                 own = vars(made)
                 for each in properties.split():
                     self.assertIs(type(own[each]), property)
-                for each in methods.split():
+                for each in signs.split():
                     self.assertTrue(inspect.isfunction(own[each]))
+                for each in methods.split():
+                    self.takes_as_told(own, each)
                 public = [each for each in own if not each.startswith("_")]
-                self.assertEqual(sorted(public), sorted(properties.split()))
+                told = properties.split() + [each.partition("(")[0] for each in methods.split()]
+                self.assertEqual(sorted(public), sorted(told))
+
+    def takes_as_told(self, own, told):
+        name, _, names = told.rstrip(")").partition("(")
+        parameters = list(inspect.signature(own[name]).parameters.values())
+        shown = []
+        for each in parameters[1:]:
+            if each.kind is inspect.Parameter.KEYWORD_ONLY:
+                shown.append(f"*{each.name}={each.default}")
+            else:
+                self.assertIs(each.kind, inspect.Parameter.POSITIONAL_OR_KEYWORD)
+                self.assertIs(each.default, inspect.Parameter.empty)
+                shown.append(each.name)
+        self.assertEqual(",".join(shown), names)
 
 
 if __name__ == "__main__":

@@ -29,7 +29,8 @@ BARRED = set(
     " IntEnum StrEnum Flag IntFlag Generic Protocol ABC ABCMeta namedtuple NamedTuple TypedDict TYPE_CHECKING"
     " abstractmethod dataclass overload contextmanager eval exec compile globals locals vars dir id".split()
 )
-METHODS = ("__init__", "__eq__", "__str__", "__contains__")
+METHODS = ("__init__", "__eq__", "__str__", "__contains__", "__len__", "__iter__", "__enter__", "__exit__")
+CHANGING = ("__init__", "__enter__", "__exit__")
 TOP = (ast.ImportFrom, ast.FunctionDef, ast.ClassDef, ast.Assign)
 NOT_PLAIN = (ast.Call, ast.ListComp, ast.Set, ast.SetComp, ast.DictComp)
 NOT_USED = (
@@ -179,12 +180,19 @@ class Language(unittest.TestCase):
                         self.assertEqual(node.decorator_list, [])
                         names = [each.name for each in node.body if isinstance(each, ast.FunctionDef)]
                         self.assertEqual(len(names), len(set(names)))
-                        # A property or an operator changes nothing, so only __init__ assigns attributes.
                         for method in node.body:
                             self.assertTrue(is_docstring(method) or isinstance(method, ast.FunctionDef))
-                            if isinstance(method, ast.FunctionDef) and method.name != "__init__":
-                                stored = [each for each in ast.walk(method) if isinstance(each, ast.Attribute)]
-                                self.assertTrue(all(isinstance(each.ctx, ast.Load) for each in stored))
+                            if isinstance(method, ast.FunctionDef):
+                                self.changes_only_what_it_may(node.name, method)
+
+    def changes_only_what_it_may(self, class_name, method):
+        """Properties and operators change nothing, and only ledgers ever change."""
+        stored = [node for node in ast.walk(method) if isinstance(node, ast.Attribute)]
+        stored = [node for node in stored if not isinstance(node.ctx, ast.Load)]
+        if method.decorator_list or method.name.startswith("__") and method.name not in CHANGING:
+            self.assertEqual(stored, [])
+        if class_name not in ("Ledger", "Trial") and method.name != "__init__":
+            self.assertEqual(stored, [])
 
     def test_generators(self):
         generators, functions = [], []

@@ -1,0 +1,1 @@
+"""What keeps rows under names."""
