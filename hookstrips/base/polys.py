@@ -156,6 +156,11 @@ def over_one(numbers, step):
     return sums
 
 
+def times_one(numbers, step, sign):
+    """The list of as many coefficients of the product of a list with 1 + sign q ** step."""
+    return numbers[:step] + [number + sign * ahead for number, ahead in zip(numbers[step:], numbers)]
+
+
 def over_factors_to(poly, many, size):
     """The series of the quotient by 1 - q, .., 1 - q ** many, to the size."""
     check_poly(poly)

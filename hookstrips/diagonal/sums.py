@@ -42,7 +42,7 @@ def taken_exponent(modulus, first, alpha, beta, u):
 
 def _sum_of(terms, top):
     """The polynomial of the terms, which all have one top."""
-    gaussians = gaussian_numbers(top, top)
+    gaussians = gaussian_numbers(top)
     total = ()
     for sign, exponent, _, low in terms:
         total = sum_with(total, moved(gaussians[low], exponent), sign)

@@ -3,7 +3,7 @@
 from math import isqrt
 
 from hookstrips.base.numbers import are_integers, check_between, is_between, pentagonal
-from hookstrips.base.polys import over_one
+from hookstrips.base.polys import over_one, times_one
 from hookstrips.errors import InvalidOperation, InvalidPoly, TooMany
 
 MAX_SIZE = 400
@@ -120,13 +120,8 @@ def unlike_series(size):
     check_between(size, 0, MAX_SIZE)
     numbers = [1] + [0] * size
     for part in range(1, size + 1):
-        numbers = _times_one(numbers, part, 1)
+        numbers = times_one(numbers, part, 1)
     return tuple(numbers)
-
-
-def _times_one(numbers, step, sign):
-    """The list of as many coefficients of the product with 1 + sign q ** step."""
-    return numbers[:step] + [number + sign * ahead for number, ahead in zip(numbers[step:], numbers)]
 
 
 def triple_series(modulus, first, size):
@@ -155,7 +150,7 @@ def times_triple(numbers, modulus, first):
     """The series of a list of any length, times the threefold product, factor by factor."""
     for step in range(modulus, len(numbers) + modulus, modulus):
         for factor in (step, step - first, step - modulus + first):
-            numbers = _times_one(numbers, factor, -1)
+            numbers = times_one(numbers, factor, -1)
     return tuple(numbers)
 
 

@@ -79,11 +79,15 @@ def box_rows(box):
 
 
 def listed_rows(wide, high, most):
-    """The list of the rows in a box with sides of any length, if they are not more than `most`."""
-    number = comb(wide + high, high)
-    if number > most:
+    """The list of the rows in a box with sides of any length, if they are not more than `most`, by their number."""
+    if comb(wide + high, high) > most:
         raise TooMany(most)
-    return [row_with_place(wide, high, place) for place in range(number)]
+    rows = [()]
+    longest = rows
+    for _ in range(high):
+        longest = [row + (part,) for row in longest for part in range(1, (row[-1] if row != () else wide) + 1)]
+        rows = rows + longest
+    return rows
 
 
 def row_with_place(wide, high, place):
