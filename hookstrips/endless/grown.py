@@ -89,8 +89,9 @@ def stays_from(bounds, size):
     wide = max([row[0] for row in rows if row != ()], default=0)
     high = max([len(row) for row in rows])
     least, most = bounds.window
-    # With both sides from m on, a box of the window is at least m + least wide and m - most high.
-    return max(0, wide - max(0, least), high - max(0, -most))
+    # With both sides from m on, a box of the window is at least m + least wide and m - most high; one
+    # of both sides can be m itself, so no m below 0 is told.
+    return max(wide - max(0, least), high - max(0, -most))
 
 
 def does_stay(bounds, box, size):

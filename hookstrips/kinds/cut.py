@@ -45,15 +45,15 @@ def are_pieces(value):
     if not isinstance(value, tuple) or not all([_is_piece(piece) for piece in value]):
         return False
     row = _row_of_pieces(value)
-    # Sides that rise, and rows beside squares that are too wide, tell no row, or one that is cut otherwise.
+    # Sides that rise, and rows that are too wide or too long, tell no row, or one that is cut otherwise.
     return is_row(row) and tuple(_pieces_of(row)) == value
 
 
 def _is_piece(value):
-    """Whether the value is a pair of a side and of a row of at most so many parts."""
+    """Whether the value is a pair of a side and of a row."""
     if not isinstance(value, tuple) or len(value) != 2:
         return False
-    return is_between(value[0], 1, MAX_PARTS) and is_row(value[1]) and len(value[1]) <= value[0]
+    return is_between(value[0], 1, MAX_PARTS) and is_row(value[1])
 
 
 def _row_of_pieces(pieces):

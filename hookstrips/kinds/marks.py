@@ -109,12 +109,11 @@ def classes_to(kind, size):
     """The ascending tuple of all classes of the kind whose least size is at most this one."""
     check_kind(kind)
     check_between(size, 0, MOST_CLASSES)
+    # No number is above the root of the size, since its square is part of the least size.
+    most = isqrt(size)
     classes = [()]
     for _ in range(kind.order - 1):
-        # No number is above the root of the size, since its square is part of the least size.
-        classes = [
-            numbers + (number,) for numbers in classes for number in range(min(numbers, default=isqrt(size)) + 1)
-        ]
+        classes = [numbers + (number,) for numbers in classes for number in range(min(numbers, default=most) + 1)]
     return tuple([numbers for numbers in classes if class_least(kind, numbers) <= size])
 
 

@@ -110,7 +110,7 @@ def rest_table(kind, size):
     table[0][0] = 1
     for part in let_parts(kind, size):
         for at in range(part, size + 1):
-            table[at] = [table[at][0]] + [with_one + other for with_one, other in zip(table[at - part], table[at][1:])]
+            table[at] = [0] + [with_one + other for with_one, other in zip(table[at - part], table[at][1:])]
     return {many: number for many, number in enumerate(table[size]) if number > 0}
 
 
