@@ -229,6 +229,12 @@ class Fold(unittest.TestCase):
         self.assertGreater(len(row), 60)
         with self.assertRaises(InvalidRow):
             gap_row_of(TRIPLE, row)
+        # The rank row with the furthest peak: no row that is passed has one at a place above 400.
+        row = gap_row_of(Kind(8, 1), (74,) * 60)
+        self.assertEqual((len(row), row[0], sum(row)), (66, 133, 74 * 60))
+        self.assertTrue(is_gap_row(Kind(8, 1), row))
+        with self.assertRaises(InvalidRow):
+            ranked(Kind(8, 1), row)
 
     def test_other_rows(self):
         for told, kind in KINDS:

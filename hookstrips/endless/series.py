@@ -181,6 +181,7 @@ def series_over(one, other):
         raise InvalidOperation("the first coefficient is not 1")
     found = []
     for at in range(min(len(one), len(other))):
-        # All products but that of what is sought and the first coefficient are known.
-        found.append(one[at] - sum([number * factor for number, factor in zip(found, other[at:0:-1])]))
+        # All products but that of what is sought and the first coefficient, which is 1, are known.
+        known = sum([number * factor for number, factor in zip(found, other[at:0:-1])])
+        found.append(one[at] - known)
     return tuple(found)
