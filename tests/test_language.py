@@ -79,6 +79,30 @@ def top_names(tree):
     return names
 
 
+def put_to(node):
+    """Pairs of what `+=`, `|=`, `extend` or `update` changes and what it gets, items, attributes and choices taken off."""
+    if isinstance(node, ast.AugAssign) and isinstance(node.op, (ast.Add, ast.BitOr)):
+        changed, passed = node.target, [node.value]
+    elif isinstance(node, ast.Call) and getattr(node.func, "attr", None) in ("extend", "update"):
+        changed, passed = node.func.value, node.args
+    else:
+        return []
+    while isinstance(changed, ast.Subscript):
+        changed = changed.value
+    return [(ast.unparse(changed), ast.unparse(part)) for each in passed for part in handed(each)]
+
+
+def handed(node):
+    """An expression and the expressions of which it is an item, an attribute, a choice, a sum or the like."""
+    parts = [node]
+    for field in ("value", "left", "right", "body", "orelse"):
+        if isinstance(getattr(node, field, None), ast.expr):
+            parts += handed(getattr(node, field))
+    for each in getattr(node, "values", []):
+        parts += handed(each)
+    return parts
+
+
 class Language(unittest.TestCase):
     def test_the_folder_holds_only_files_of_the_package(self):
         for path in [PACKAGE, *PACKAGE.rglob("*")]:
@@ -193,6 +217,24 @@ class Language(unittest.TestCase):
             self.assertEqual(stored, [])
         if class_name not in ("Ledger", "Trial") and method.name != "__init__":
             self.assertEqual(stored, [])
+
+    def test_no_list_gets_what_it_holds(self):
+        for path, text, tree in files():
+            with self.subTest(path=path):
+                for node in ast.walk(tree):
+                    for changed, passed in put_to(node):
+                        self.assertNotEqual(changed, passed, ast.unparse(node))
+
+    def test_what_a_list_gets(self):
+        for text, wrong in (
+            ("sums[at] += sums[at - step]", True), ("sums[at] += 1 + sums[0]", True), ("sums += sums", True),
+            ("sums.extend(sums)", True), ("box.rows.update(box.rows)", True), ("sums |= other or sums", True),
+            ("sums[0][at] += sums[1][at] if at else 0", True), ("sums[at] += sums[0].many", True),
+            ("sums[at] = sums[at] + sums[at - step]", False), ("sums[at] += other[at]", False),
+            ("sums.extend(list(sums))", False), ("sums.extend([0] * len(sums))", False), ("sums -= sums", False),
+        ):
+            pairs = [pair for node in ast.walk(ast.parse(text)) for pair in put_to(node)]
+            self.assertIs(any(changed == passed for changed, passed in pairs), wrong, text)
 
     def test_generators(self):
         generators, functions = [], []

@@ -152,7 +152,7 @@ def over_one(numbers, step):
     """The list of as many coefficients, of any number, of the quotient by 1 - q ** step."""
     sums = list(numbers)
     for at in range(step, len(numbers)):
-        sums[at] += sums[at - step]
+        sums[at] = sums[at] + sums[at - step]
     return sums
 
 

@@ -35,7 +35,7 @@ def _by_first_rule(top, low):
     line = [1] * (top - low + 1)
     for high in range(1, low + 1):
         for at in range(1, len(line)):
-            line[at] += line[at - 1] << bits * high
+            line[at] = line[at] + (line[at - 1] << bits * high)
     digit = (1 << bits) - 1
     return tuple([(line[-1] >> bits * at) & digit for at in range(low * (top - low) + 1)])
 
