@@ -146,6 +146,17 @@ class Listings(unittest.TestCase):
             for size in range(FEW + 1):
                 self.assertEqual(gap_rows(kind, size), tuple(sorted(listed(told, size))))
 
+    def test_rows_of_greater_sizes(self):
+        for told, kind in KINDS:
+            for size, number in enumerate(gap_series(kind, 60)):
+                if number > 3000:
+                    break
+                if size > FEW and size % 4 == told[0] % 4 or number > 1500:
+                    rows = gap_rows(kind, size)
+                    self.assertEqual(len(rows), number)
+                    self.assertEqual(sorted(set(rows)), list(rows))
+                    self.assertTrue(all(sum(row) == size and is_gap_row(kind, row) for row in rows))
+
     def test_series(self):
         for told, kind in KINDS:
             counts = tuple(len(listed(told, size)) for size in range(FEW + 1))

@@ -102,6 +102,21 @@ class BySteps(unittest.TestCase):
                     by_steps(*told, box)
                 self.assertEqual(caught.exception.limit, 12)
 
+    def test_each_beta_of_one_sum(self):
+        boxes = (Box(12, 12), Box(12, 5), Box(4, 12), Box(1, 9), Box(10, 0))
+        for modulus, first in ((2, 1), (3, 1), (4, 3), (9, 4), (17, 1), (17, 16)):
+            for both in (1, 2, modulus // 2 + 1, modulus):
+                for beta in range(both + 1):
+                    for box in boxes:
+                        told = modulus, first, both - beta, beta
+                        self.assertEqual(by_steps(*told, box), alternating(*told, box))
+
+    def test_boxes_that_are_0_wide_or_high(self):
+        # Here the recursions go over N or M below 0, and so over powers of q below 0.
+        for wide in range(13):
+            self.assertEqual(by_steps(17, 8, 9, 8, Box(wide, 0)), sum_as_told((17, 8, 9, 8), wide, 0))
+            self.assertEqual(by_steps(17, 8, 9, 8, Box(0, wide)), sum_as_told((17, 8, 9, 8), 0, wide))
+
     def test_both_numbers_0(self):
         for box in (FOUR, Box(0, 0), Box(13, 13), Box(12, 12)):
             with self.assertRaises(InvalidOperation):

@@ -1,6 +1,6 @@
 """Two recursions of the alternating sum, and the columns and rows that they take off bounded rows."""
 
-from hookstrips.base.polys import moved, sum_with
+from hookstrips.base.polys import moved, without_end_zeros
 from hookstrips.diagonal.bounds import Bounds, check_bounds, check_bounds_and_box, failing_squares
 from hookstrips.diagonal.sums import added_exponent, alternating, check_alternating, taken_exponent
 from hookstrips.errors import InvalidOperation, Refused, TooMany
@@ -41,46 +41,65 @@ def by_steps(modulus, first, alpha, beta, box):
         raise InvalidOperation("no recursion holds for alpha and beta 0")
     if max(box.wide, box.high) > MAX_STEPPED:
         raise TooMany(MAX_STEPPED)
-    both = alpha + beta
-    # A level has all N and M of one N + M, M falling from that of the box on; for each of these it
-    # has the polynomials of beta = 0, 1, .., with alpha + beta told.
-    level = []
-    for wide in range(-box.high, box.wide + 1):
-        level.append([_without_sides(modulus, first, both - each, each, wide) for each in range(both + 1)])
-    for sides in range(1, box.wide + box.high + 1):
-        level = _next_level(level, sides, box.high)
-    return level[0][beta]
+    # Each polynomial is kept as its value at q = 2 ** bits, since integers are added and shifted at
+    # once. Its coefficients, signs left off, add up to at most 2 ** (N + M), since each recursion
+    # adds two polynomials; so none comes to a half of 2 ** bits.
+    bits = box.wide + box.high + 2
+    return _of_value(_by_lines(modulus, first, alpha + beta, beta, box, bits), bits)
 
 
-def _without_sides(modulus, first, alpha, beta, wide):
-    """The polynomial for N + M = 0, N being `wide`: one power of q or none."""
+def _by_lines(modulus, first, both, beta, box, bits):
+    """The value of the polynomial at q = 2 ** bits, both being alpha + beta.
+
+    A line is the list of these values for one N, one beta, and M = -N, 1 - N, .., the height of the box.
+    """
+    # By the first recursion N and beta become less together, until beta is 0. From there on the second
+    # one is needed, too: the lines of beta 0 and 1 tell each other.
+    line = []
+    for wide in range(-box.high, box.wide - beta + 1):
+        beside = _line(line, wide, _without_sides(modulus, first, both - 1, 1, wide, bits), bits)
+        line = _line_without_beta(line, beside, wide, _without_sides(modulus, first, both, 0, wide, bits), bits)
+    for wide in range(max(-box.high, box.wide - beta + 1), box.wide + 1):
+        each = beta - (box.wide - wide)
+        line = _line(line, wide, _without_sides(modulus, first, both - each, each, wide, bits), bits)
+    return line[-1]
+
+
+def _line(narrower, wide, start, bits):
+    """The line of N and a beta from 1 on by the first recursion, out of that of N - 1 and beta - 1."""
+    line = [start]
+    for at, value in enumerate(narrower):
+        line.append(line[-1] + _times_power(value, bits * (at + 1 - wide)))
+    return line
+
+
+def _line_without_beta(narrower, beside, wide, start, bits):
+    """The line of N and beta 0 by the second recursion, out of that of N - 1 and that of N and beta 1."""
+    return [start] + [value + _times_power(lower, bits * wide) for value, lower in zip(narrower, beside)]
+
+
+def _without_sides(modulus, first, alpha, beta, wide, bits):
+    """The value for N + M = 0, N being `wide`: that of one power of q, or 0."""
     if wide % modulus == 0:
-        return moved((1,), added_exponent(modulus, first, alpha, beta, wide // modulus))
+        return 1 << bits * added_exponent(modulus, first, alpha, beta, wide // modulus)
     if (wide + first) % modulus == 0:
-        return moved((-1,), taken_exponent(modulus, first, alpha, beta, (wide + first) // modulus))
-    return ()
+        return -(1 << bits * taken_exponent(modulus, first, alpha, beta, (wide + first) // modulus))
+    return 0
 
 
-def _next_level(level, sides, highest):
-    """The level of N + M = `sides`, out of the one ahead of it."""
-    grown = []
-    for at in range(len(level) - 1):
-        high = highest - at
-        grown.append(_both_recursions(level[at], level[at + 1], sides - high, high))
-    return grown
+def _times_power(value, many):
+    """The value times 2 ** many, also for many below 0, where the product is an integer."""
+    return value << many if many >= 0 else value >> -many
 
 
-def _both_recursions(narrower, lower, wide, high):
-    """The polynomials of all beta for N and M, out of those for N - 1 and M and for N and M - 1."""
-    polys = [sum_with(narrower[0], _times_power(lower[1], wide), 1)]
-    for beta in range(1, len(lower)):
-        polys.append(sum_with(lower[beta], _times_power(narrower[beta - 1], high), 1))
-    return polys
-
-
-def _times_power(poly, power):
-    """The polynomial times a power of q, also one below 0 if no power in the product is."""
-    return moved(poly, power) if power >= 0 else poly[-power:]
+def _of_value(value, bits):
+    """The polynomial with this value at q = 2 ** bits, if no coefficient, sign left off, comes to its half."""
+    length = value.bit_length() // bits + 1
+    digit = (1 << bits) - 1
+    half = 1 << bits - 1
+    # With a half put to each coefficient none is below 0.
+    lifted = value + half * (((1 << bits * length) - 1) // digit)
+    return without_end_zeros([((lifted >> bits * at) & digit) - half for at in range(length)])
 
 
 def has_columns(bounds, box):

@@ -139,10 +139,9 @@ def gap_poly(kind, greatest):
 def gap_rows(kind, size):
     """The ascending tuple of all gap rows of the size."""
     _check_listed(kind, size)
-    layers = _layers(kind, size, size)
-    if layers[-1][-1][size] > MOST_ROWS:
+    if _layers(kind, size, size)[-1][-1][size] > MOST_ROWS:
         raise TooMany(MOST_ROWS)
-    return tuple(_listed(layers, size, kind.order - 1, size))
+    return tuple(_listed(kind, size))
 
 
 def _check_listed(kind, size):
@@ -151,17 +150,38 @@ def _check_listed(kind, size):
     check_between(size, 0, MOST_LISTED_SIZE)
 
 
-def _listed(layers, part, room, size):
-    """The ascending list of the gap rows that the layers count for a part, for s and for a size."""
-    if layers[part][room][size] == 0:
-        return []
-    if part == 0:
-        return [()]
-    found = []
-    for many in range(min(room, size // part) + 1):
-        behind = _listed(layers, part - 1, len(layers[0]) - 1 - many, size - many * part)
-        found.extend([(part,) * many + row for row in behind])
-    return found
+def _listed(kind, size):
+    """The ascending list of all gap rows of the size.
+
+    Part by part, `rows` has for each total the ascending list of the gap rows of this size whose parts
+    are all at most this part, and `ends` has for each s how many of these, the first ones of the list,
+    have this part at most s times.
+    """
+    rows = [[()]] + [[] for _ in range(size)]
+    # As for the layers, beside k - i parts 0 there is room for i - 1 parts 1.
+    ends = [[1 if room >= kind.order - kind.first else 0 for room in range(kind.order)]]
+    ends = ends + [[0] * kind.order] * size
+    for part in range(1, size + 1):
+        # Rows of a total below the size are asked for behind a greater part alone, which needs room.
+        # Rows with this part come from those of lesser totals without it, so the greatest total is first.
+        for total in [size] + list(range(size - part - 1, part - 1, -1)):
+            rows[total], ends[total] = _with_part(rows, ends, part, total)
+        # No row of a lesser total has this part.
+        ends[part - 1] = [len(rows[part - 1])] * kind.order
+    return rows[size]
+
+
+def _with_part(rows, ends, part, total):
+    """The pair of the list and the ends of the total, when the rows with this part stand behind the others."""
+    found = list(rows[total])
+    reached = [len(found)]
+    for many in range(1, len(ends[total])):
+        rest = total - many * part
+        if rest >= 0:
+            ahead = (part,) * many
+            found.extend([ahead + row for row in rows[rest][:ends[rest][-1 - many]]])
+        reached.append(len(found))
+    return found, reached
 
 
 def gap_row_at(kind, size, place):
